@@ -1,0 +1,66 @@
+package tape
+
+// The lanes of a half: numbers of w bits, one beside the other.
+
+// Each is the half whose lanes of w bits are all x.
+func Each(w int, x uint64) uint64 {
+	var half uint64
+	for at := 0; at < 64; at += w {
+		half |= x << at
+	}
+	return half
+}
+
+// High is the half with the highest bit of each lane alone.
+func High(w int) uint64 {
+	return Each(w, 1<<(w-1))
+}
+
+// Full is a lane of ones.
+func Full(w int) uint64 {
+	return ^uint64(0) >> (64 - w)
+}
+
+// Spread makes lanes of ones where v has a lane's highest bit; v has no other
+// bits.
+func (v Value) Spread(w int) Value {
+	return v.Down(w - 1).Times(Number(Full(w)))
+}
+
+// Choose has the bits of x where mask has ones, else those of y.
+func Choose(x, y, mask Value) Value {
+	return y.Xor(x.Xor(y).And(mask))
+}
+
+// Lane is the lane i of v, with zeros above it.
+func (v Value) Lane(w, i int) Value {
+	if (i+1)*w == 64 {
+		return v.Down(i * w)
+	}
+	return v.Down(i * w).And(Number(Full(w)))
+}
+
+// Place puts the lowest w bits of v where the lane i stands, with zeros about
+// them.
+func (v Value) Place(w, i int) Value {
+	if (i+1)*w == 64 {
+		return v.Up(i * w)
+	}
+	return v.And(Number(Full(w))).Up(i * w)
+}
+
+// All lays the lowest w bits of v in all lanes.
+func (v Value) All(w int) Value {
+	if w == 64 {
+		return v
+	}
+	return v.And(Number(Full(w))).Times(Number(Each(w, 1)))
+}
+
+// Insert is v with the lowest w bits of x in the lane i.
+func (v Value) Insert(w, i int, x Value) Value {
+	if w == 64 {
+		return x
+	}
+	return v.And(Number(^(Full(w) << (i * w)))).Or(x.Place(w, i))
+}
