@@ -76,3 +76,15 @@ func Effect(p api.Prog, fn api.Fn, c api.Cell) (int, int) {
 	}
 	return 0, 0
 }
+
+// Operands tells how many operands values of these types are: a vector's are
+// two.
+func Operands(types []int) int {
+	n := len(types)
+	for _, t := range types {
+		if t == api.V128 {
+			n++
+		}
+	}
+	return n
+}

@@ -21,6 +21,9 @@ func TestEffect(t *testing.T) {
 			t.Errorf("%v: %d %d", r.c, takes, gives)
 		}
 	}
+	if Operands([]int{api.I32, api.V128, api.I64}) != 4 || Operands(nil) != 0 {
+		t.Error("Operands")
+	}
 	if !Scalar(Tick) || !Scalar(0x6a) || !Scalar(0x37) || Scalar(0xfd6e) || Scalar(0x41) {
 		t.Error("Scalar")
 	}

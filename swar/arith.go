@@ -87,7 +87,7 @@ func (m maker) two(w, k int, a, b tape.Value) tape.Value {
 	case shapes.Sub:
 		return difference(w, a, b)
 	case shapes.Mul:
-		return m.product(w, a, b)
+		return tape.Product(w, a, b)
 	case shapes.MinS, shapes.MinU:
 		return tape.Choose(a, b, m.below(w, k == shapes.MinS, a, b))
 	case shapes.MaxS, shapes.MaxU:
@@ -97,25 +97,6 @@ func (m maker) two(w, k int, a, b tape.Value) tape.Value {
 		return a.Or(b).Minus(a.Xor(b).Down(1).And(rest(w)))
 	}
 	return m.saturate(w, k, a, b)
-}
-
-// product multiplies lanes one by one: the other lanes of b lie above the lane,
-// and what they give is cut off.
-func (m maker) product(w int, a, b tape.Value) tape.Value {
-	if w == 64 {
-		return a.Times(b)
-	}
-	all := tape.Number(0)
-	for i := range 64 / w {
-		own := tape.Number(tape.Full(w) << (i * w))
-		lane := a.And(own).Times(b.Down(i * w)).And(own)
-		if i == 0 {
-			all = lane
-		} else {
-			all = all.Or(lane)
-		}
-	}
-	return all
 }
 
 // saturate adds or takes away, and holds to the lane's ends what passes them.

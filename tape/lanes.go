@@ -64,3 +64,50 @@ func (v Value) Insert(w, i int, x Value) Value {
 	}
 	return v.And(Number(^(Full(w) << (i * w)))).Or(x.Place(w, i))
 }
+
+// Product multiplies lanes one by one: the other lanes of b lie above the lane,
+// and what they give is cut off.
+func Product(w int, a, b Value) Value {
+	if w == 64 {
+		return a.Times(b)
+	}
+	return Join(64/w, func(i int) Value {
+		own := Number(Full(w) << (i * w))
+		return a.And(own).Times(b.Down(i * w)).And(own)
+	})
+}
+
+// Join is n pieces, of which no two have a bit in one place.
+func Join(n int, piece func(i int) Value) Value {
+	all := piece(0)
+	for i := 1; i < n; i++ {
+		all = all.Or(piece(i))
+	}
+	return all
+}
+
+// Widen makes lanes of w bits of the lowest 32 bits of x, in which lanes half
+// as wide lie side by side: they are drawn apart, the upper half of them first.
+func (m *Maker) Widen(w int, signed bool, x Value) Value {
+	v := x.And(Number(Full(32)))
+	for g := 16; g >= w/2; g /= 2 {
+		v = m.Keep(v)
+		v = v.Or(v.Up(g)).And(Number(Each(2*g, Full(g))))
+	}
+	if !signed {
+		return v
+	}
+	v = m.Keep(v)
+	signs := v.And(Number(Each(w, 1<<(w/2-1))))
+	return v.Or(signs.Times(Number(2 * Full(w/2))))
+}
+
+// Pack is the way back: the lower halves of lanes of w bits, side by side in the
+// lowest 32 bits; the upper halves are 0.
+func (m *Maker) Pack(w int, v Value) Value {
+	for g := w / 2; g < 32; g *= 2 {
+		v = m.Keep(v)
+		v = v.Or(v.Down(g)).And(Number(Each(4*g, Full(2*g))))
+	}
+	return v
+}
