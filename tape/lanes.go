@@ -11,6 +11,12 @@ func Each(w int, x uint64) uint64 {
 	return half
 }
 
+// Where tells in which half of a vector the lane i lies, and as which lane of
+// it.
+func Where(w, i int) (int, int) {
+	return i * w / 64, i % (64 / w)
+}
+
 // High is the half with the highest bit of each lane alone.
 func High(w int) uint64 {
 	return Each(w, 1<<(w-1))
