@@ -4,8 +4,13 @@ package access
 
 import (
 	"plait/api"
-	"plait/memory"
 )
+
+// Memory is what is accessed.
+type Memory interface {
+	Load(at uint64, n int) (uint64, api.Errno)
+	Store(at uint64, n int, x uint64) api.Errno
+}
 
 // Size tells how many bytes a load or store of a number accesses; 0, if op is
 // none.
@@ -29,7 +34,7 @@ func Stores(op int) bool {
 }
 
 // Load does a load of a number at a place.
-func Load(m *memory.Memory, op int, place uint64) (uint64, api.Errno) {
+func Load(m Memory, op int, place uint64) (uint64, api.Errno) {
 	x, e := m.Load(place, Size(op))
 	if e != api.OK {
 		return 0, e
@@ -50,6 +55,6 @@ func Load(m *memory.Memory, op int, place uint64) (uint64, api.Errno) {
 }
 
 // Store does a store of a number at a place.
-func Store(m *memory.Memory, op int, place uint64, x uint64) api.Errno {
+func Store(m Memory, op int, place uint64, x uint64) api.Errno {
 	return m.Store(place, Size(op), x)
 }

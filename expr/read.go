@@ -4,6 +4,7 @@ import (
 	"plait/api"
 	"plait/instr"
 	"plait/leb"
+	"plait/ops"
 	"plait/pair"
 )
 
@@ -103,7 +104,7 @@ func (r *reader) opcode() int {
 		if n > vectorsTop {
 			r.fail(api.ErrForm)
 		}
-		return vectors + n
+		return ops.Vectors + n
 	case otherByte:
 		if n := r.number(); n < floats && r.err == api.OK {
 			r.fail(api.ErrFloat)

@@ -4,6 +4,7 @@ import (
 	"plait/api"
 	"plait/instr"
 	"plait/leb"
+	"plait/ops"
 	"plait/pair"
 )
 
@@ -72,10 +73,10 @@ func index(n int) bool {
 
 // opcode gives an opcode's bytes.
 func opcode(op int) []byte {
-	if op < vectors {
+	if op < ops.Vectors {
 		return []byte{byte(op)}
 	}
-	return append([]byte{vectorByte}, leb.PutU(uint64(op-vectors))...)
+	return append([]byte{vectorByte}, leb.PutU(uint64(op-ops.Vectors))...)
 }
 
 // fields gives the bytes of what stands behind an opcode of that form.

@@ -4,37 +4,11 @@ import (
 	"plait/api"
 	"plait/cells"
 	"plait/memlow"
+	"plait/ops"
 	"plait/permute"
 	"plait/split"
 	"plait/swar"
 	"plait/tape"
-)
-
-// The opcodes that aren't a cell's, or whose cells hang on types.
-const (
-	unreachable  = 0x00
-	nop          = 0x01
-	blockOp      = 0x02
-	loopOp       = 0x03
-	ifOp         = 0x04
-	elseOp       = 0x05
-	endOp        = 0x0b
-	br           = 0x0c
-	brIf         = 0x0d
-	brTable      = 0x0e
-	returnOp     = 0x0f
-	call         = 0x10
-	callIndirect = 0x11
-	drop         = 0x1a
-	selectOp     = 0x1b
-	localGet     = 0x20
-	localSet     = 0x21
-	localTee     = 0x22
-	globalGet    = 0x23
-	globalSet    = 0x24
-	constI32     = 0x41
-	constI64     = 0x42
-	vectors      = 0xfd00
 )
 
 // picks is how many scratch locals the select of two vectors has.
@@ -63,7 +37,7 @@ func (c *compiler) body(code []api.Instr, out int) {
 			continue
 		}
 		c.marks = append(c.marks, len(c.Cells))
-		if in.Op != elseOp && in.Op != endOp {
+		if in.Op != ops.Else && in.Op != ops.End {
 			c.Lay(api.Cell{Op: cells.Tick})
 		}
 		c.instruction(i, in)
@@ -79,11 +53,11 @@ func (c *compiler) height(i int) int {
 // same.
 func (c *compiler) dead(in api.Instr) {
 	switch in.Op {
-	case blockOp, loopOp, ifOp:
+	case ops.Block, ops.Loop, ops.If:
 		c.blocks = append(c.blocks, block{})
-	case elseOp:
+	case ops.Else:
 		c.otherwise(false)
-	case endOp:
+	case ops.End:
 		c.close()
 	}
 }
@@ -91,28 +65,28 @@ func (c *compiler) dead(in api.Instr) {
 // instruction lays the image of the instruction i, behind its tick.
 func (c *compiler) instruction(i int, in api.Instr) {
 	switch in.Op {
-	case nop:
-	case unreachable:
+	case ops.Nop:
+	case ops.Unreachable:
 		c.Lay(api.Cell{Op: cells.Unreachable})
-	case blockOp, loopOp, ifOp:
+	case ops.Block, ops.Loop, ops.If:
 		c.open(in, c.height(i))
-	case elseOp:
+	case ops.Else:
 		c.otherwise(true)
-	case endOp:
+	case ops.End:
 		c.close()
-	case br, brIf, brTable, returnOp:
+	case ops.Br, ops.BrIf, ops.BrTable, ops.Return:
 		c.branch(in, c.height(i))
-	case call:
+	case ops.Call:
 		c.Lay(api.Cell{Op: cells.Call, A: in.A})
-	case callIndirect:
+	case ops.CallIndirect:
 		c.Lay(api.Cell{Op: cells.CallIndirect, A: split.Canon(c.module, in.A)})
-	case drop, selectOp:
+	case ops.Drop, ops.Select:
 		c.choose(i, in)
-	case localGet, localSet, localTee:
+	case ops.LocalGet, ops.LocalSet, ops.LocalTee:
 		c.local(in)
-	case globalGet, globalSet:
+	case ops.GlobalGet, ops.GlobalSet:
 		c.global(in)
-	case constI32, constI64:
+	case ops.ConstI32, ops.ConstI64:
 		c.Lay(api.Cell{Op: cells.Const, N: in.Lo})
 	default:
 		c.plain(in)
@@ -121,7 +95,7 @@ func (c *compiler) instruction(i int, in api.Instr) {
 
 // plain lays what is a cell itself, or a vector's sequence.
 func (c *compiler) plain(in api.Instr) {
-	if in.Op < vectors {
+	if in.Op < ops.Vectors {
 		c.Lay(api.Cell{Op: in.Op, N: uint64(in.B)})
 		return
 	}
@@ -155,9 +129,9 @@ func (c *compiler) need(n int) {
 func (c *compiler) choose(i int, in api.Instr) {
 	vector := c.stack[i].Vecs != c.stack[i+1].Vecs
 	switch {
-	case in.Op == drop && vector:
+	case in.Op == ops.Drop && vector:
 		c.Lay(api.Cell{Op: cells.Drop}, api.Cell{Op: cells.Drop})
-	case in.Op == drop:
+	case in.Op == ops.Drop:
 		c.Lay(api.Cell{Op: cells.Drop})
 	case vector:
 		c.pickVector()
@@ -186,11 +160,11 @@ func (c *compiler) local(in api.Instr) {
 		return
 	}
 	switch in.Op {
-	case localGet:
+	case ops.LocalGet:
 		c.Lay(get(lo), get(hi))
-	case localSet:
+	case ops.LocalSet:
 		c.Lay(set(hi), set(lo))
-	case localTee:
+	case ops.LocalTee:
 		c.Lay(set(hi), api.Cell{Op: cells.Tee, A: lo}, get(hi))
 	}
 }
@@ -202,7 +176,7 @@ func (c *compiler) global(in api.Instr) {
 	switch {
 	case c.module.Globals[in.A].Type != api.V128:
 		c.Lay(lo)
-	case in.Op == globalGet:
+	case in.Op == ops.GlobalGet:
 		c.Lay(lo, hi)
 	default:
 		c.Lay(hi, lo)

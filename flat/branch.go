@@ -3,6 +3,7 @@ package flat
 import (
 	"plait/api"
 	"plait/cells"
+	"plait/ops"
 	"plait/split"
 )
 
@@ -24,7 +25,7 @@ type block struct {
 func (c *compiler) open(in api.Instr, height int) {
 	takes, gives := split.Block(c.module, in.A)
 	b := block{op: in.Op, live: true, takes: takes, gives: gives, height: height - takes}
-	if in.Op == ifOp {
+	if in.Op == ops.If {
 		b.height-- // the number by which it decides
 		c.Lay(api.Cell{Op: eqz})
 		b.toElse = len(c.Cells)
@@ -46,7 +47,7 @@ func (c *compiler) otherwise(reached bool) {
 		c.Lay(api.Cell{Op: cells.Jump})
 	}
 	c.Cells[b.toElse].A = len(c.Cells)
-	b.op = elseOp
+	b.op = ops.Else
 }
 
 // close closes the innermost block; the function's own returns.
@@ -54,7 +55,7 @@ func (c *compiler) close() {
 	last := len(c.blocks) - 1
 	b := c.blocks[last]
 	c.blocks = c.blocks[:last]
-	if b.op == ifOp {
+	if b.op == ops.If {
 		b.toEnd = append(b.toEnd, b.toElse)
 	}
 	for _, at := range b.toEnd {
@@ -68,13 +69,13 @@ func (c *compiler) close() {
 // branch lays a branch from that height on.
 func (c *compiler) branch(in api.Instr, height int) {
 	switch in.Op {
-	case returnOp:
+	case ops.Return:
 		c.Lay(api.Cell{Op: cells.Return})
-	case br:
+	case ops.Br:
 		c.leave(in.A, height)
-	case brIf:
+	case ops.BrIf:
 		c.leaveIf(in.A, height-1)
-	case brTable:
+	case ops.BrTable:
 		c.leaveBy(in, height-1)
 	}
 }
@@ -87,7 +88,7 @@ func (c *compiler) target(l, height int) (*block, bool) {
 
 // along is how many operands a branch to a block takes along.
 func along(b *block) int {
-	if b.op == loopOp {
+	if b.op == ops.Loop {
 		return b.takes
 	}
 	return b.gives
@@ -101,7 +102,7 @@ func (c *compiler) excess(b *block, height int) int {
 
 // jump lays a jump to a block's label.
 func (c *compiler) jump(op int, b *block) {
-	if b.op != loopOp {
+	if b.op != ops.Loop {
 		b.toEnd = append(b.toEnd, len(c.Cells))
 	}
 	c.Lay(api.Cell{Op: op, A: b.start})

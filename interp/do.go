@@ -4,38 +4,10 @@ import (
 	"plait/access"
 	"plait/api"
 	"plait/num"
+	"plait/ops"
 	"plait/pair"
 	"plait/vector"
 	"plait/vmem"
-)
-
-// The opcodes of what isn't an operator, an access or a vector's instruction.
-const (
-	unreachable  = 0x00
-	nop          = 0x01
-	blockOp      = 0x02
-	loopOp       = 0x03
-	ifOp         = 0x04
-	elseOp       = 0x05
-	endOp        = 0x0b
-	br           = 0x0c
-	brIf         = 0x0d
-	brTable      = 0x0e
-	returnOp     = 0x0f
-	call         = 0x10
-	callIndirect = 0x11
-	drop         = 0x1a
-	selectOp     = 0x1b
-	localGet     = 0x20
-	localSet     = 0x21
-	localTee     = 0x22
-	globalGet    = 0x23
-	globalSet    = 0x24
-	memorySize   = 0x3f
-	memoryGrow   = 0x40
-	constI32     = 0x41
-	constI64     = 0x42
-	vectors      = 0xfd00
 )
 
 // do does an instruction.
@@ -43,7 +15,7 @@ func (f *frame) do(s *step) api.Errno {
 	switch {
 	case vmem.Size(s.Op) != 0:
 		return f.vectorAccess(s)
-	case s.Op >= vectors:
+	case s.Op >= ops.Vectors:
 		return f.vector(s)
 	case access.Size(s.Op) != 0:
 		return f.access(s)
@@ -51,21 +23,21 @@ func (f *frame) do(s *step) api.Errno {
 		return f.operator(s)
 	}
 	switch s.Op {
-	case unreachable:
+	case ops.Unreachable:
 		return api.TrapUnreachable
-	case blockOp, loopOp, ifOp, elseOp, endOp:
+	case ops.Block, ops.Loop, ops.If, ops.Else, ops.End:
 		f.block(s)
-	case br, brIf, brTable, returnOp:
+	case ops.Br, ops.BrIf, ops.BrTable, ops.Return:
 		f.jump(s)
-	case call:
+	case ops.Call:
 		return f.invoke(s.A)
-	case callIndirect:
+	case ops.CallIndirect:
 		return f.indirect(s)
-	case memorySize:
+	case ops.MemorySize:
 		f.pushNumber(uint64(f.store.Memory().Pages()))
-	case memoryGrow:
+	case ops.MemoryGrow:
 		f.pushNumber(uint64(f.store.Memory().Grow(uint32(f.popNumber()))))
-	case constI32, constI64:
+	case ops.ConstI32, ops.ConstI64:
 		f.pushNumber(s.Lo)
 	default:
 		f.variable(s)
@@ -126,9 +98,9 @@ func (f *frame) vectorAccess(s *step) api.Errno {
 // block opens or closes a block.
 func (f *frame) block(s *step) {
 	switch s.Op {
-	case blockOp, loopOp:
+	case ops.Block, ops.Loop:
 		f.enter(s)
-	case ifOp:
+	case ops.If:
 		switch yes := uint32(f.popNumber()) != 0; {
 		case yes:
 			f.enter(s)
@@ -138,9 +110,9 @@ func (f *frame) block(s *step) {
 		default:
 			f.at = s.end + 1
 		}
-	case elseOp: // what stands ahead of it has been done
+	case ops.Else: // what stands ahead of it has been done
 		f.at = s.end
-	case endOp:
+	case ops.End:
 		f.labels = f.labels[:len(f.labels)-1]
 	}
 }
@@ -148,19 +120,19 @@ func (f *frame) block(s *step) {
 // jump does a branch or a return.
 func (f *frame) jump(s *step) {
 	switch s.Op {
-	case br:
+	case ops.Br:
 		f.branch(s.A)
-	case brIf:
+	case ops.BrIf:
 		if uint32(f.popNumber()) != 0 {
 			f.branch(s.A)
 		}
-	case brTable:
+	case ops.BrTable:
 		l := s.A
 		if x := uint32(f.popNumber()); uint64(x) < uint64(len(s.L)) {
 			l = s.L[x]
 		}
 		f.branch(l)
-	case returnOp:
+	case ops.Return:
 		f.branch(len(f.labels) - 1)
 	}
 }
@@ -187,21 +159,21 @@ func (f *frame) indirect(s *step) api.Errno {
 // variable does what drops, selects, or reads and writes locals and globals.
 func (f *frame) variable(s *step) {
 	switch s.Op {
-	case drop:
+	case ops.Drop:
 		f.pop()
-	case selectOp:
+	case ops.Select:
 		x, second, first := uint32(f.popNumber()), f.pop(), f.pop()
 		if x == 0 {
 			first = second
 		}
 		f.push(first)
-	case localGet:
+	case ops.LocalGet:
 		f.push(f.locals[s.A])
-	case localSet:
+	case ops.LocalSet:
 		f.locals[s.A] = f.pop()
-	case localTee:
+	case ops.LocalTee:
 		f.locals[s.A] = f.stack[len(f.stack)-1]
-	case globalGet, globalSet:
+	case ops.GlobalGet, ops.GlobalSet:
 		f.global(s)
 	}
 }
@@ -209,7 +181,7 @@ func (f *frame) variable(s *step) {
 // global reads or writes the slots of a global.
 func (f *frame) global(s *step) {
 	k, n := f.store.Place(s.A)
-	if s.Op == globalGet {
+	if s.Op == ops.GlobalGet {
 		var v api.Halves
 		v.Lo, _ = f.store.Slot(k)
 		if n == 2 {

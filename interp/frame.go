@@ -2,6 +2,7 @@ package interp
 
 import (
 	"plait/api"
+	"plait/ops"
 )
 
 // frame is a call of a function of the module. A value is a vector's halves, a
@@ -36,7 +37,7 @@ func (f *frame) results() ([]api.Halves, api.Errno) {
 	for f.at < len(f.fn.body) {
 		s := &f.fn.body[f.at]
 		f.at++
-		if s.Op != elseOp && s.Op != endOp {
+		if s.Op != ops.Else && s.Op != ops.End {
 			if f.fuel == 0 {
 				return nil, api.ErrFuel
 			}
@@ -84,7 +85,7 @@ func (f *frame) popAll(n int) []api.Halves {
 // enter opens a block that has been taken from the place s.
 func (f *frame) enter(s *step) {
 	l := label{height: len(f.stack) - s.takes, arity: s.gives, next: s.end + 1}
-	if s.Op == loopOp {
+	if s.Op == ops.Loop {
 		l.arity, l.next, l.loop = s.takes, f.at, true
 	}
 	f.labels = append(f.labels, l)

@@ -5,6 +5,7 @@ import (
 
 	"plait/api"
 	"plait/instr"
+	"plait/ops"
 )
 
 // function is a function of the module, or the import whose number host is.
@@ -41,9 +42,9 @@ func planned(types []api.Sig, sig api.Sig, code api.Code) function {
 		switch {
 		case info.Form == api.FormBlock:
 			open = append(open, at)
-		case in.Op == elseOp:
+		case in.Op == ops.Else:
 			fn.body[open[last]].other = at
-		case in.Op == endOp && last >= 0:
+		case in.Op == ops.End && last >= 0:
 			fn.close(open[last], at)
 			open = open[:last]
 		}

@@ -5,29 +5,7 @@ import (
 
 	"plait/api"
 	"plait/instr"
-)
-
-// The instructions that the maker of modules writes by name.
-const (
-	unreachable  = 0x00
-	nop          = 0x01
-	blockOp      = 0x02
-	loopOp       = 0x03
-	ifOp         = 0x04
-	elseOp       = 0x05
-	endOp        = 0x0b
-	br           = 0x0c
-	brIf         = 0x0d
-	brTable      = 0x0e
-	returnOp     = 0x0f
-	call         = 0x10
-	callIndirect = 0x11
-	drop         = 0x1a
-	selectOp     = 0x1b
-	localGet     = 0x20
-	globalGet    = 0x23
-	globalSet    = 0x24
-	vectors      = 0xfd00
+	"plait/ops"
 )
 
 // dice are numbers without a shape that hang on a seed alone.
@@ -82,15 +60,15 @@ func (d *dice) kinds(most int) []int {
 // table, globals, two imports and four functions "f0" to "f3".
 func Module(seed uint64) api.Module {
 	d := &dice{state: seed*0x9e3779b97f4a7c15 + 1}
-	end := api.Instr{Op: endOp}
+	end := api.Instr{Op: ops.End}
 	m := api.Module{
 		Start:   -1,
 		Types:   []api.Sig{{}, {In: []int{api.V128}, Out: []int{api.V128}}, {In: []int{api.I64, api.I64}, Out: []int{api.V128}}, {In: []int{api.I32}}},
 		Imports: []api.Import{{Module: "env", Name: "f", Type: 4}, {Module: "host", Name: "exit", Type: 3}},
 		Tables:  []api.Limits{{Min: 8, Max: -1}},
 		Mems:    []api.Limits{{Min: 1, Max: 2}},
-		Elems:   []api.Elem{{Offset: []api.Instr{{Op: 0x41, Lo: 1}, end}, Funcs: []int{0, 2, 3, 4, 5, 2}}},
-		Datas:   []api.Data{{Offset: []api.Instr{{Op: 0x41, Lo: 65500}, end}, Bytes: []byte("all lanes of a half at once")}},
+		Elems:   []api.Elem{{Offset: []api.Instr{{Op: ops.ConstI32, Lo: 1}, end}, Funcs: []int{0, 2, 3, 4, 5, 2}}},
+		Datas:   []api.Data{{Offset: []api.Instr{{Op: ops.ConstI32, Lo: 65500}, end}, Bytes: []byte("all lanes of a half at once")}},
 	}
 	for range 4 {
 		m.Types = append(m.Types, api.Sig{In: d.kinds(3), Out: d.kinds(3)})
@@ -116,11 +94,11 @@ func Module(seed uint64) api.Module {
 func (d *dice) constant(t int) api.Instr {
 	switch t {
 	case api.I32:
-		return api.Instr{Op: 0x41, Lo: uint64(uint32(d.number()))}
+		return api.Instr{Op: ops.ConstI32, Lo: uint64(uint32(d.number()))}
 	case api.I64:
-		return api.Instr{Op: 0x42, Lo: d.number()}
+		return api.Instr{Op: ops.ConstI64, Lo: d.number()}
 	}
-	return api.Instr{Op: 0xfd0c, Lo: d.number(), Hi: d.number()}
+	return api.Instr{Op: ops.ConstV128, Lo: d.number(), Hi: d.number()}
 }
 
 // Arguments gives halves for the parameters of a function.
@@ -143,7 +121,7 @@ func plainOps() []int {
 	for n := range 0x200 {
 		op := n
 		if n >= 0x100 {
-			op = vectors + n - 0x100
+			op = ops.Vectors + n - 0x100
 		}
 		if info, ok := instr.Of(op); ok && info.Plain && len(info.In) > 0 {
 			all = append(all, op)

@@ -5,6 +5,7 @@ import (
 
 	"plait/api"
 	"plait/instr"
+	"plait/ops"
 )
 
 // frame is an open block: the types of its label, and of what it gives.
@@ -67,7 +68,7 @@ func (w *writer) fill() {
 	top := w.top()
 	w.frames = w.frames[:len(w.frames)-1]
 	w.stack = append(w.stack[:top.height], top.gives...)
-	w.lay(api.Instr{Op: endOp})
+	w.lay(api.Instr{Op: ops.End})
 }
 
 // finish leaves what the block gives, or something that is never reached.
@@ -81,7 +82,7 @@ func (w *writer) finish(alive bool) {
 		return
 	}
 	for range w.own() {
-		w.lay(api.Instr{Op: drop})
+		w.lay(api.Instr{Op: ops.Drop})
 	}
 	w.stack = w.stack[:w.top().height]
 	w.values(gives)
@@ -92,18 +93,18 @@ func (w *writer) never() {
 	for range w.roll(3) {
 		switch w.roll(5) {
 		case 0:
-			w.lay(api.Instr{Op: unreachable})
+			w.lay(api.Instr{Op: ops.Unreachable})
 		case 1:
-			w.lay(api.Instr{Op: drop})
+			w.lay(api.Instr{Op: ops.Drop})
 		case 2:
 			w.lay(api.Instr{Op: 0x6a})
-			w.lay(api.Instr{Op: drop})
+			w.lay(api.Instr{Op: ops.Drop})
 		case 3:
-			w.lay(api.Instr{Op: ifOp, A: api.Empty})
-			w.lay(api.Instr{Op: elseOp})
-			w.lay(api.Instr{Op: endOp})
+			w.lay(api.Instr{Op: ops.If, A: api.Empty})
+			w.lay(api.Instr{Op: ops.Else})
+			w.lay(api.Instr{Op: ops.End})
 		default:
-			w.lay(api.Instr{Op: nop})
+			w.lay(api.Instr{Op: ops.Nop})
 		}
 	}
 }
@@ -121,13 +122,13 @@ func (w *writer) value(t int) {
 	from := w.roll(8)
 	for i, local := range w.locals {
 		if local == t && (i+from)%3 == 0 {
-			w.lay(api.Instr{Op: localGet, A: i})
+			w.lay(api.Instr{Op: ops.LocalGet, A: i})
 			return
 		}
 	}
 	for i, g := range w.module.Globals {
 		if g.Type == t && from == 0 {
-			w.lay(api.Instr{Op: globalGet, A: i})
+			w.lay(api.Instr{Op: ops.GlobalGet, A: i})
 			return
 		}
 	}
@@ -172,7 +173,7 @@ func (w *writer) plain() {
 	info, _ := instr.Of(in.Op)
 	w.fields(&in, info)
 	if info.Form == api.FormMem || info.Form == api.FormMemLane {
-		w.lay(api.Instr{Op: 0x41, Lo: uint64(w.address())})
+		w.lay(api.Instr{Op: ops.ConstI32, Lo: uint64(w.address())})
 		w.give(info.In[:1])
 		w.values(info.In[1:])
 	} else {
@@ -210,20 +211,20 @@ func (w *writer) block() {
 	if len(w.frames) > 6 {
 		return
 	}
-	in := api.Instr{Op: blockOp + w.roll(3), A: []int{api.Empty, -1, -2, -5, w.roll(len(w.module.Types)), w.roll(len(w.module.Types))}[w.roll(6)]}
+	in := api.Instr{Op: ops.Block + w.roll(3), A: []int{api.Empty, -1, -2, -5, w.roll(len(w.module.Types)), w.roll(len(w.module.Types))}[w.roll(6)]}
 	sig := w.blockSig(in.A)
 	w.want(sig.In)
-	if in.Op == ifOp {
+	if in.Op == ops.If {
 		w.value(api.I32)
 		w.take([]int{api.I32})
 	}
 	w.lay(in)
 	f := frame{label: sig.Out, gives: sig.Out, height: len(w.stack) - len(sig.In)}
-	if in.Op == loopOp {
+	if in.Op == ops.Loop {
 		f.label = sig.In
 	}
 	w.frames = append(w.frames, f)
-	if in.Op == ifOp && (w.roll(2) == 0 || !slices.Equal(sig.In, sig.Out)) {
+	if in.Op == ops.If && (w.roll(2) == 0 || !slices.Equal(sig.In, sig.Out)) {
 		w.firstPart(sig)
 	}
 	w.fill()
@@ -236,7 +237,7 @@ func (w *writer) firstPart(sig api.Sig) {
 		alive = w.statement()
 	}
 	w.finish(alive)
-	w.lay(api.Instr{Op: elseOp})
+	w.lay(api.Instr{Op: ops.Else})
 	w.stack = append(w.stack[:w.top().height], sig.In...)
 }
 
@@ -263,12 +264,12 @@ func (w *writer) branch() bool {
 	switch w.roll(8) {
 	case 0:
 		w.want(label)
-		w.lay(api.Instr{Op: br, A: l})
+		w.lay(api.Instr{Op: ops.Br, A: l})
 	case 1:
 		w.want(label)
 		w.value(api.I32)
 		w.take([]int{api.I32})
-		in := api.Instr{Op: brTable, A: l}
+		in := api.Instr{Op: ops.BrTable, A: l}
 		for k := range w.frames {
 			if slices.Equal(w.frames[len(w.frames)-1-k].label, label) {
 				in.L = append(in.L, k)
@@ -277,17 +278,17 @@ func (w *writer) branch() bool {
 		w.lay(in)
 	case 2:
 		w.want(w.sig.Out)
-		w.lay(api.Instr{Op: returnOp})
+		w.lay(api.Instr{Op: ops.Return})
 	case 3:
 		if w.roll(3) > 0 {
 			return true
 		}
-		w.lay(api.Instr{Op: unreachable})
+		w.lay(api.Instr{Op: ops.Unreachable})
 	default:
 		w.want(label)
 		w.value(api.I32)
 		w.take([]int{api.I32})
-		w.lay(api.Instr{Op: brIf, A: l})
+		w.lay(api.Instr{Op: ops.BrIf, A: l})
 		return true
 	}
 	return false
@@ -301,8 +302,8 @@ func (w *writer) variable() {
 	i := w.roll(len(w.locals))
 	t := w.locals[i : i+1]
 	w.want(t)
-	in := api.Instr{Op: localGet + 1 + w.roll(2), A: i}
-	if in.Op == localGet+1 {
+	in := api.Instr{Op: ops.LocalGet + 1 + w.roll(2), A: i}
+	if in.Op == ops.LocalGet+1 {
 		w.take(t)
 	}
 	w.lay(in)
@@ -314,7 +315,7 @@ func (w *writer) global() {
 	t := []int{w.module.Globals[i].Type}
 	w.want(t)
 	w.take(t)
-	w.lay(api.Instr{Op: globalSet, A: i})
+	w.lay(api.Instr{Op: ops.GlobalSet, A: i})
 }
 
 // call writes a call, seldom of what ends the run.
@@ -323,7 +324,7 @@ func (w *writer) call() {
 	if f == 1 && w.roll(4) > 0 {
 		f = 0
 	}
-	in, k := api.Instr{Op: call, A: f}, 0
+	in, k := api.Instr{Op: ops.Call, A: f}, 0
 	if f < len(w.module.Imports) {
 		k = w.module.Imports[f].Type
 	} else {
@@ -332,8 +333,8 @@ func (w *writer) call() {
 	sig := w.module.Types[k]
 	w.want(sig.In)
 	if w.roll(3) == 0 {
-		in = api.Instr{Op: callIndirect, A: k}
-		w.lay(api.Instr{Op: 0x41, Lo: uint64(w.roll(9))})
+		in = api.Instr{Op: ops.CallIndirect, A: k}
+		w.lay(api.Instr{Op: ops.ConstI32, Lo: uint64(w.roll(9))})
 	}
 	w.take(sig.In)
 	w.lay(in)
@@ -344,12 +345,12 @@ func (w *writer) call() {
 func (w *writer) choose() {
 	if len(w.own()) > 0 && w.roll(3) == 0 {
 		w.take([]int{0})
-		w.lay(api.Instr{Op: drop})
+		w.lay(api.Instr{Op: ops.Drop})
 		return
 	}
 	t := w.kind()
 	w.want([]int{t})
 	w.values([]int{t, api.I32})
 	w.take([]int{t, api.I32})
-	w.lay(api.Instr{Op: selectOp})
+	w.lay(api.Instr{Op: ops.Select})
 }

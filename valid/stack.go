@@ -2,6 +2,7 @@ package valid
 
 import (
 	"plait/api"
+	"plait/ops"
 )
 
 // anyType stands where a value may be of any type, behind what never goes on.
@@ -116,7 +117,7 @@ func (b *body) label(l int) ([]int, bool) {
 		return nil, false
 	}
 	to := b.blocks[len(b.blocks)-1-l]
-	if to.op == loopOp {
+	if to.op == ops.Loop {
 		return to.sig.In, true
 	}
 	return to.sig.Out, true

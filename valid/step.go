@@ -5,28 +5,7 @@ import (
 
 	"plait/api"
 	"plait/instr"
-)
-
-// The instructions that aren't plain.
-const (
-	unreachable  = 0x00
-	blockOp      = 0x02
-	loopOp       = 0x03
-	ifOp         = 0x04
-	elseOp       = 0x05
-	br           = 0x0c
-	brIf         = 0x0d
-	brTable      = 0x0e
-	returnOp     = 0x0f
-	call         = 0x10
-	callIndirect = 0x11
-	drop         = 0x1a
-	selectOp     = 0x1b
-	localGet     = 0x20
-	localSet     = 0x21
-	localTee     = 0x22
-	globalGet    = 0x23
-	globalSet    = 0x24
+	"plait/ops"
 )
 
 // step does an instruction on the stack of types.
@@ -36,19 +15,19 @@ func (b *body) step(in api.Instr) {
 		return
 	}
 	switch in.Op {
-	case unreachable:
+	case ops.Unreachable:
 		b.die()
-	case blockOp, loopOp, ifOp, elseOp, endOp:
+	case ops.Block, ops.Loop, ops.If, ops.Else, ops.End:
 		b.nest(in)
-	case br, brIf, brTable, returnOp:
+	case ops.Br, ops.BrIf, ops.BrTable, ops.Return:
 		b.branch(in)
-	case call, callIndirect:
+	case ops.Call, ops.CallIndirect:
 		b.call(in)
-	case drop:
+	case ops.Drop:
 		b.take(anyType)
-	case selectOp:
+	case ops.Select:
 		b.choose()
-	case localGet, localSet, localTee:
+	case ops.LocalGet, ops.LocalSet, ops.LocalTee:
 		b.local(in)
 	default:
 		b.global(in)
@@ -83,19 +62,19 @@ func numbers(half uint64) bool {
 // nest opens a block, or closes one.
 func (b *body) nest(in api.Instr) {
 	switch in.Op {
-	case elseOp:
+	case ops.Else:
 		b.finish()
 		top := b.top()
-		top.op, top.dead = elseOp, false
+		top.op, top.dead = ops.Else, false
 		b.giveAll(top.sig.In)
-	case endOp:
+	case ops.End:
 		b.finish()
 		top := *b.top()
-		b.need(top.op != ifOp || slices.Equal(top.sig.In, top.sig.Out))
+		b.need(top.op != ops.If || slices.Equal(top.sig.In, top.sig.Out))
 		b.blocks = b.blocks[:len(b.blocks)-1]
 		b.giveAll(top.sig.Out)
 	default:
-		if in.Op == ifOp {
+		if in.Op == ops.If {
 			b.take(api.I32)
 		}
 		sig, ok := b.blockSig(in.A)
@@ -126,12 +105,12 @@ func (b *body) blockSig(a int) (api.Sig, bool) {
 
 // branch does what may go elsewhere.
 func (b *body) branch(in api.Instr) {
-	if in.Op == returnOp {
+	if in.Op == ops.Return {
 		b.takeAll(b.results)
 		b.die()
 		return
 	}
-	if in.Op != br {
+	if in.Op != ops.Br {
 		b.take(api.I32)
 	}
 	types, ok := b.label(in.A)
@@ -143,7 +122,7 @@ func (b *body) branch(in api.Instr) {
 		b.giveAll(others)
 	}
 	b.takeAll(types)
-	if in.Op == brIf {
+	if in.Op == ops.BrIf {
 		b.giveAll(types)
 		return
 	}
@@ -153,7 +132,7 @@ func (b *body) branch(in api.Instr) {
 // call does a call of a function, or of one of the table.
 func (b *body) call(in api.Instr) {
 	var sig api.Sig
-	if in.Op == call {
+	if in.Op == ops.Call {
 		b.need(in.A < len(b.sigs))
 		if in.A < len(b.sigs) {
 			sig = b.sigs[in.A]
@@ -187,10 +166,10 @@ func (b *body) local(in api.Instr) {
 		return
 	}
 	t := b.locals[in.A]
-	if in.Op != localGet {
+	if in.Op != ops.LocalGet {
 		b.take(t)
 	}
-	if in.Op != localSet {
+	if in.Op != ops.LocalSet {
 		b.push(t)
 	}
 }
@@ -202,7 +181,7 @@ func (b *body) global(in api.Instr) {
 		return
 	}
 	g := b.Globals[in.A]
-	if in.Op == globalGet {
+	if in.Op == ops.GlobalGet {
 		b.push(g.Type)
 		return
 	}
