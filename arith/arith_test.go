@@ -1,4 +1,4 @@
-package arith
+package arith_test
 
 import (
 	"math"
@@ -6,6 +6,7 @@ import (
 	"testing"
 
 	"plait/api"
+	"plait/arith"
 	"plait/pair"
 )
 
@@ -123,13 +124,13 @@ func fill(w int, xs []uint64, at int) api.Vec {
 func TestWidth(t *testing.T) {
 	all := ops()
 	for op := -300; op < 0x10200; op++ {
-		if Width(op) != all[op][0] {
-			t.Errorf("%x: %d", op, Width(op))
+		if arith.Width(op) != all[op][0] {
+			t.Errorf("%x: %d", op, arith.Width(op))
 		}
 	}
 	for _, op := range []int{math.MinInt, math.MaxInt, 1<<32 + 0xfd6e} {
-		if Width(op) != 0 {
-			t.Errorf("%x: %d", op, Width(op))
+		if arith.Width(op) != 0 {
+			t.Errorf("%x: %d", op, arith.Width(op))
 		}
 	}
 }
@@ -168,11 +169,11 @@ func TestLanes(t *testing.T) {
 func do(op, k int, a, b api.Vec, n uint32) (api.Vec, api.Errno) {
 	switch {
 	case k <= 2:
-		return Un(op, a)
+		return arith.Un(op, a)
 	case k <= 13:
-		return Shift(op, a, n)
+		return arith.Shift(op, a, n)
 	}
-	return Bin(op, a, b)
+	return arith.Bin(op, a, b)
 }
 
 // P5.2: ErrArg, and then no vector.
@@ -185,11 +186,11 @@ func TestNotTheCalls(t *testing.T) {
 	}
 	for _, op := range list {
 		p := all[op]
-		v, e := Un(op, a)
+		v, e := arith.Un(op, a)
 		check(t, op, "Un", p[0] != 0 && p[1] <= 2, v, e)
-		v, e = Shift(op, a, 1)
+		v, e = arith.Shift(op, a, 1)
 		check(t, op, "Shift", p[0] != 0 && p[1] >= 11 && p[1] <= 13, v, e)
-		v, e = Bin(op, a, a)
+		v, e = arith.Bin(op, a, a)
 		check(t, op, "Bin", p[0] != 0 && p[1] >= 14, v, e)
 	}
 }
@@ -215,10 +216,10 @@ func TestExamples(t *testing.T) {
 		}
 	}
 	big := fill(16, []uint64{256}, 0)
-	if v, e := Bin(0xfd95, big, big); v != (api.Vec{}) || e != 0 {
+	if v, e := arith.Bin(0xfd95, big, big); v != (api.Vec{}) || e != 0 {
 		t.Error(v, e)
 	}
-	if Width(0xfd6e) != 8 || Width(0xfdce) != 64 || Width(0xfd82) != 0 {
+	if arith.Width(0xfd6e) != 8 || arith.Width(0xfdce) != 64 || arith.Width(0xfd82) != 0 {
 		t.Error("Width")
 	}
 }

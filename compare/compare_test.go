@@ -1,10 +1,11 @@
-package compare
+package compare_test
 
 import (
 	"math"
 	"testing"
 
 	"plait/api"
+	"plait/compare"
 	"plait/pair"
 )
 
@@ -83,7 +84,7 @@ func TestCmp(t *testing.T) {
 	for _, op := range opcodes() {
 		c, mine := all[op]
 		if !mine {
-			if v, e := Cmp(op, api.Vec{}, api.Vec{}); v != (api.Vec{}) || e != api.ErrArg {
+			if v, e := compare.Cmp(op, api.Vec{}, api.Vec{}); v != (api.Vec{}) || e != api.ErrArg {
 				t.Errorf("%x: %x, %d", op, v, e)
 			}
 			continue
@@ -99,7 +100,7 @@ func TestCmp(t *testing.T) {
 						want = pair.Set(want, c.w, i, math.MaxUint64)
 					}
 				}
-				if v, e := Cmp(op, a, b); v != want || e != 0 {
+				if v, e := compare.Cmp(op, a, b); v != want || e != 0 {
 					t.Errorf("%x: %x %x: %x, %d, want %x", op, a, b, v, e, want)
 				}
 			}
@@ -131,7 +132,7 @@ func TestTest(t *testing.T) {
 	for _, op := range opcodes() {
 		c, mine := all[op]
 		if !mine {
-			if n, e := Test(op, pair.Of(64, 7, 7)); n != 0 || e != api.ErrArg {
+			if n, e := compare.Test(op, pair.Of(64, 7, 7)); n != 0 || e != api.ErrArg {
 				t.Errorf("%x: %x, %d", op, n, e)
 			}
 			continue
@@ -148,7 +149,7 @@ func TestTest(t *testing.T) {
 				mask |= uint32(x>>(c.w-1)) << i
 			}
 			want := map[string]uint32{"any": some, "all": every, "bitmask": mask}[c.name]
-			if n, e := Test(op, v); n != want || e != 0 {
+			if n, e := compare.Test(op, v); n != want || e != 0 {
 				t.Errorf("%x of %x: %x, %d, want %x", op, v, n, e, want)
 			}
 		}
@@ -161,7 +162,7 @@ func TestBits(t *testing.T) {
 	for _, op := range opcodes() {
 		for n := range 5 {
 			vs := []api.Vec{a, b, c, a}[:n]
-			v, e := Bits(op, vs...)
+			v, e := compare.Bits(op, vs...)
 			if bitOps[op] != n || n == 0 {
 				if v != (api.Vec{}) || e != api.ErrArg {
 					t.Errorf("%x of %d: %x, %d", op, n, v, e)
@@ -204,19 +205,19 @@ func TestExamples(t *testing.T) {
 		want api.Vec
 	}{{0xfd25, pair.Of(8, 255)}, {0xfd26, api.Vec{}}, {0xfd2c, ones}, {0xfd23, pair.Set(ones, 8, 0, 0)}}
 	for _, r := range rows {
-		if v, e := Cmp(r.op, a, b); v != r.want || e != 0 {
+		if v, e := compare.Cmp(r.op, a, b); v != r.want || e != 0 {
 			t.Errorf("%x: %x, %d", r.op, v, e)
 		}
 	}
 	for op, want := range map[int]uint32{0xfd64: 1, 0xfd63: 0, 0xfd53: 1} {
-		if n, e := Test(op, a); n != want || e != 0 {
+		if n, e := compare.Test(op, a); n != want || e != 0 {
 			t.Errorf("%x: %d, %d", op, n, e)
 		}
 	}
-	if n, e := Test(0xfdc4, pair.Of(64, 0, 1<<63)); n != 2 || e != 0 {
+	if n, e := compare.Test(0xfdc4, pair.Of(64, 0, 1<<63)); n != 2 || e != 0 {
 		t.Error(n, e)
 	}
-	if v, e := Bits(0xfd52, a, b, ones); v != a || e != 0 {
+	if v, e := compare.Bits(0xfd52, a, b, ones); v != a || e != 0 {
 		t.Error(v, e)
 	}
 }

@@ -1,4 +1,4 @@
-package driver
+package driver_test
 
 import (
 	"bytes"
@@ -7,6 +7,7 @@ import (
 	"testing"
 
 	"plait/api"
+	"plait/driver"
 	"plait/encode"
 	"plait/trial"
 	"plait/valid"
@@ -86,7 +87,7 @@ func says(t *testing.T, script []api.Step, want ...api.Answer) {
 		}
 	}
 	for _, s := range [][]api.Step{script, turned} {
-		got := Run(s)
+		got := driver.Run(s)
 		if len(got) != len(want) {
 			t.Fatalf("%d answers, want %d", len(got), len(want))
 		}
@@ -162,9 +163,9 @@ func script(seed uint64, engine func(i int) int) []api.Step {
 // P27.2
 func TestEngines(t *testing.T) {
 	for seed := range uint64(150) {
-		want := Run(script(seed, func(int) int { return 0 }))
+		want := driver.Run(script(seed, func(int) int { return 0 }))
 		for k, engine := range []func(int) int{func(int) int { return 1 }, func(i int) int { return i & 1 }, func(i int) int { return i / 2 & 1 }} {
-			got := Run(script(seed, engine))
+			got := driver.Run(script(seed, engine))
 			for i := range want {
 				if !alike(got[i], want[i]) {
 					t.Fatalf("seed %d, engines %d, step %d: %+v, want %+v", seed, k, i, got[i], want[i])
@@ -178,7 +179,7 @@ func TestEngines(t *testing.T) {
 func TestMemory(t *testing.T) {
 	steps := []api.Step{load(sample(-1)), fresh(0, 9), reply(1, 2, 3, 4), invoke("env", 0, 9, 5, 6), log, log, memory(0, 4), memory(0, 4), global("g"), global("g"), invoke("f", 1, 9, 5)}
 	before := slices.Clone(steps)
-	one, two := Run(steps), Run(steps)
+	one, two := driver.Run(steps), driver.Run(steps)
 	if !reflect.DeepEqual(one, two) || !reflect.DeepEqual(steps, before) || !bytes.Equal(steps[0].Bytes, bytesOf(sample(-1))) {
 		t.Error("something is kept from script to script")
 	}

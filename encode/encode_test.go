@@ -1,4 +1,4 @@
-package encode
+package encode_test
 
 import (
 	"bytes"
@@ -10,6 +10,7 @@ import (
 	"testing"
 
 	"plait/api"
+	"plait/encode"
 	"plait/module"
 )
 
@@ -70,7 +71,7 @@ func clean(m api.Module) api.Module {
 
 // P14.1, P14.2
 func TestFull(t *testing.T) {
-	b, e := Encode(full())
+	b, e := encode.Encode(full())
 	if e != 0 || !bytes.Equal(b, whole(fullBytes)) {
 		t.Errorf("%d\n% x\n% x", e, b, whole(fullBytes))
 	}
@@ -104,11 +105,11 @@ func TestCantBe(t *testing.T) {
 	for what, change := range rows {
 		m := full()
 		change(&m)
-		if b, e := Encode(m); b != nil || e != api.ErrArg {
+		if b, e := encode.Encode(m); b != nil || e != api.ErrArg {
 			t.Errorf("%s: % x, %d", what, b, e)
 		}
 		m.Datas = append(m.Datas, api.Data{Offset: at0, Bytes: make([]byte, 20000)})
-		if b, e := Encode(m); b != nil || e != api.ErrArg {
+		if b, e := encode.Encode(m); b != nil || e != api.ErrArg {
 			t.Errorf("%s, and long: % x, %d", what, b, e)
 		}
 	}
@@ -126,7 +127,7 @@ func TestLimits(t *testing.T) {
 		"start": {Start: 1<<32 - 1}, "start 0": {Start: 0}, "nothing": {Start: -1}, "empty lists": {Start: -1, Types: []api.Sig{}, Datas: []api.Data{}},
 	}
 	for what, m := range rows {
-		b, e := Encode(m)
+		b, e := encode.Encode(m)
 		if e != 0 {
 			t.Errorf("%s: %d", what, e)
 			continue
@@ -135,15 +136,15 @@ func TestLimits(t *testing.T) {
 		if e != 0 {
 			t.Errorf("%s: %d", what, e)
 		}
-		again, e := Encode(got)
+		again, e := encode.Encode(got)
 		if e != 0 || !bytes.Equal(again, b) {
 			t.Errorf("%s: % x, %d", what, again, e)
 		}
 	}
-	if b, e := Encode(rows["empty lists"]); e != 0 || !bytes.Equal(b, whole("")) {
+	if b, e := encode.Encode(rows["empty lists"]); e != 0 || !bytes.Equal(b, whole("")) {
 		t.Error(b, e)
 	}
-	if b, e := Encode(rows["locals"]); e != 0 || !bytes.Equal(b, whole("03020100 0a 07 01 05 01 80047b 0b")) {
+	if b, e := encode.Encode(rows["locals"]); e != 0 || !bytes.Equal(b, whole("03020100 0a 07 01 05 01 80047b 0b")) {
 		t.Errorf("% x %d", b, e)
 	}
 }
@@ -153,10 +154,10 @@ func TestLong(t *testing.T) {
 	of := func(n int) api.Module {
 		return api.Module{Start: -1, Datas: []api.Data{{Offset: at0, Bytes: make([]byte, n)}}}
 	}
-	b, _ := Encode(of(16000))
+	b, _ := encode.Encode(of(16000))
 	most := 16000 + api.MaxModule - len(b)
 	for n, want := range map[int]api.Errno{most: 0, most + 1: api.ErrLong, 16384: api.ErrLong, 1 << 20: api.ErrLong} {
-		b, e := Encode(of(n))
+		b, e := encode.Encode(of(n))
 		if e != want || e != 0 && b != nil || e == 0 && len(b) != api.MaxModule {
 			t.Error(n, len(b), e)
 		}
@@ -177,7 +178,7 @@ func TestShorter(t *testing.T) {
 			t.Error(r[0], e)
 			continue
 		}
-		b, e := Encode(m)
+		b, e := encode.Encode(m)
 		if e != 0 || !bytes.Equal(b, whole(r[1])) || len(b) > len(whole(r[0])) {
 			t.Errorf("%s: % x, %d", r[0], b, e)
 		}
@@ -191,14 +192,14 @@ func TestShorter(t *testing.T) {
 // P14.1: the document's examples.
 func TestExamples(t *testing.T) {
 	m := api.Module{Start: -1, Types: []api.Sig{{}}, Funcs: []int{0}, Codes: []api.Code{{Body: []api.Instr{end}}}}
-	if b, e := Encode(m); e != 0 || !bytes.Equal(b, whole("01 04 01 60 00 00 03 02 01 00 0a 04 01 02 00 0b")) {
+	if b, e := encode.Encode(m); e != 0 || !bytes.Equal(b, whole("01 04 01 60 00 00 03 02 01 00 0a 04 01 02 00 0b")) {
 		t.Errorf("% x %d", b, e)
 	}
 	m.Codes[0].Locals = []int{api.I64, api.I64, api.I32}
-	if b, _ := Encode(m); !bytes.HasSuffix(b, unhex("0a 08 01 06 02 027e 017f 0b")) {
+	if b, _ := encode.Encode(m); !bytes.HasSuffix(b, unhex("0a 08 01 06 02 027e 017f 0b")) {
 		t.Errorf("% x", b)
 	}
-	if b, e := Encode(api.Module{}); e != 0 || !bytes.Equal(b, whole("08 01 00")) {
+	if b, e := encode.Encode(api.Module{}); e != 0 || !bytes.Equal(b, whole("08 01 00")) {
 		t.Errorf("% x %d", b, e)
 	}
 }
@@ -206,8 +207,8 @@ func TestExamples(t *testing.T) {
 // P14.3
 func TestMemory(t *testing.T) {
 	m := full()
-	one, _ := Encode(m)
-	two, _ := Encode(m)
+	one, _ := encode.Encode(m)
+	two, _ := encode.Encode(m)
 	for i := range one {
 		one[i] = 0xee
 	}

@@ -1,4 +1,4 @@
-package engine
+package engine_test
 
 import (
 	"bytes"
@@ -9,6 +9,7 @@ import (
 
 	"plait/api"
 	"plait/encode"
+	"plait/engine"
 	"plait/flat"
 	"plait/host"
 	"plait/module"
@@ -59,9 +60,9 @@ func bytesOf(t *testing.T, m api.Module) []byte {
 	return b
 }
 
-func loaded(t *testing.T, m api.Module) *Unit {
+func loaded(t *testing.T, m api.Module) *engine.Unit {
 	t.Helper()
-	u, e := Load(bytesOf(t, m))
+	u, e := engine.Load(bytesOf(t, m))
 	if e != 0 || u == nil {
 		t.Fatal(e)
 	}
@@ -98,11 +99,11 @@ func TestLoad(t *testing.T) {
 		{[]byte("x"), api.ErrForm}, {nil, api.ErrForm}, {make([]byte, 16385), api.ErrLong}, {bytesOf(t, bad), api.ErrValid}, {head, 0}, {append(bytes.Clone(head), 1, 5, 1, 0x60, 1, 0x7d, 0), api.ErrFloat}, {append(bytes.Clone(head), 5, 3, 1, 0, 17), api.ErrMany}, {append(bytes.Clone(head), 8, 1, 0), api.ErrValid},
 	}
 	for i, r := range rows {
-		if u, e := Load(r.b); e != r.e || (u == nil) != (e != 0) {
+		if u, e := engine.Load(r.b); e != r.e || (u == nil) != (e != 0) {
 			t.Error(i, u != nil, e, r.e)
 		}
 	}
-	var none *Unit
+	var none *engine.Unit
 	if !reflect.DeepEqual(none.Module(), api.Module{}) || !reflect.DeepEqual(none.Prog(), api.Prog{}) {
 		t.Error("of nil")
 	}
@@ -120,9 +121,9 @@ func TestNew(t *testing.T) {
 			}
 		}
 	}
-	var none *Unit
+	var none *engine.Unit
 	for _, r := range []struct {
-		u      *Unit
+		u      *engine.Unit
 		h      *host.Host
 		engine int
 		e      api.Errno
@@ -209,7 +210,7 @@ func TestInvoke(t *testing.T) {
 			t.Error(g)
 		}
 	}
-	var none *Instance
+	var none *engine.Instance
 	is(t, "nil", none.Invoke("f", nil, 10, 9), api.Outcome{Err: api.ErrNil})
 }
 
@@ -245,7 +246,7 @@ func TestLooks(t *testing.T) {
 	if b, e := y.Peek(-1, -1); b != nil || e != api.ErrNil {
 		t.Error(b, e)
 	}
-	var none *Instance
+	var none *engine.Instance
 	if g, e := none.Global("x"); g != nil || e != api.ErrNil {
 		t.Error(g, e)
 	}
@@ -259,7 +260,7 @@ func TestEngines(t *testing.T) {
 	for seed := range uint64(60) {
 		m := trial.Module(seed)
 		u := loaded(t, m)
-		var xs []*Instance
+		var xs []*engine.Instance
 		var hs []*host.Host
 		for k := range 4 {
 			h := host.New(seed, 2, 3)
@@ -294,7 +295,7 @@ func TestEngines(t *testing.T) {
 // P26.5
 func TestMemory(t *testing.T) {
 	b := bytesOf(t, sample(-1))
-	u, _ := Load(b)
+	u, _ := engine.Load(b)
 	for i := range b {
 		b[i] = 0xee
 	}

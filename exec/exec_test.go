@@ -1,4 +1,4 @@
-package exec
+package exec_test
 
 import (
 	"bytes"
@@ -8,6 +8,7 @@ import (
 	"testing"
 
 	"plait/api"
+	"plait/exec"
 	"plait/host"
 	"plait/num"
 	"plait/store"
@@ -69,7 +70,7 @@ func alike(a, b api.Outcome) bool {
 	return a.Err == b.Err && a.Code == b.Code && a.Left == b.Left && slices.Equal(a.Results, b.Results)
 }
 
-func runs(t *testing.T, what any, m *Machine, f int, args []uint64, fuel int, want api.Outcome) {
+func runs(t *testing.T, what any, m *exec.Machine, f int, args []uint64, fuel int, want api.Outcome) {
 	t.Helper()
 	if got := m.Run(f, args, fuel); !alike(got, want) || got.Err != 0 && got.Results != nil {
 		t.Errorf("%v: %+v, want %+v", what, got, want)
@@ -84,7 +85,7 @@ func fails(e api.Errno, left int) api.Outcome { return api.Outcome{Err: e, Left:
 func cellsRun(t *testing.T, what any, in, out int, args []uint64, want api.Outcome, cs ...api.Cell) *store.Store {
 	t.Helper()
 	s := made(t, source())
-	runs(t, what, New(prog(in, out, cs...), s, host.New(21, 22, 23)), 0, args, 10, want)
+	runs(t, what, exec.New(prog(in, out, cs...), s, host.New(21, 22, 23)), 0, args, 10, want)
 	return s
 }
 
@@ -188,11 +189,11 @@ func TestBad(t *testing.T) {
 		if op == 0x2a || op == 0x2b || op == 0x38 || op == 0x39 {
 			continue
 		}
-		m := New(prog(0, 0, konst(0), konst(0), cell(op), ret), plain, host.New())
+		m := exec.New(prog(0, 0, konst(0), konst(0), cell(op), ret), plain, host.New())
 		runs(t, op, m, 0, nil, 10, bad)
 	}
-	runs(t, "no slot", New(prog(0, 0, cellA(0x23, 0), ret), plain, host.New()), 0, nil, 10, bad)
-	runs(t, "no table", New(prog(0, 0, konst(0), konst(0), konst(0), cellA(0x11, 1), ret), plain, host.New()), 0, nil, 10, fails(api.TrapElem, 10))
+	runs(t, "no slot", exec.New(prog(0, 0, cellA(0x23, 0), ret), plain, host.New()), 0, nil, 10, bad)
+	runs(t, "no table", exec.New(prog(0, 0, konst(0), konst(0), konst(0), cellA(0x11, 1), ret), plain, host.New()), 0, nil, 10, fails(api.TrapElem, 10))
 }
 
 // P20.1: MaxStack operands, and no more.
@@ -203,7 +204,7 @@ func TestStack(t *testing.T) {
 		return slices.Concat(slices.Repeat([]api.Cell{cellA(0x10, 1)}, 1024), last, []api.Cell{ret})
 	}
 	p.Funcs = []api.Fn{{Host: -1, Cells: loop()}, {Host: -1, Sig: 1, Out: 1024, Cells: append(many, ret)}, {Host: -1, Cells: loop(konst(1))}, {Host: -1, Cells: loop(tick, drop, konst(1), slid(1<<20, 0), cellA(0x10, 1))}}
-	m := New(p, made(t, source()), host.New())
+	m := exec.New(p, made(t, source()), host.New())
 	runs(t, "full", m, 0, nil, 10, ok(10))
 	runs(t, "one more", m, 2, nil, 10, fails(api.ErrBad, 10))
 	runs(t, "a call more", m, 3, nil, 10, fails(api.ErrBad, 9))
@@ -222,13 +223,13 @@ func TestIndirect(t *testing.T) {
 	}{
 		{1, 0, fails(api.TrapElem, 10)}, {1, 5, fails(api.TrapElem, 10)}, {1, 8, fails(api.TrapElem, 10)}, {1, 1<<32 - 1, fails(api.TrapElem, 10)}, {1, 2, ok(10, 13)}, {1, 1<<32 + 2, ok(10, 13)}, {1, 1, fails(api.TrapSig, 10)}, {2, 2, fails(api.TrapSig, 10)}, {1, 4, fails(api.ErrBad, 10)}, {2, 4, fails(api.ErrBad, 10)},
 	} {
-		runs(t, i, New(prog(0, 1, call(r.a, r.x)...), s, h), 0, nil, 10, r.want)
+		runs(t, i, exec.New(prog(0, 1, call(r.a, r.x)...), s, h), 0, nil, 10, r.want)
 	}
-	runs(t, "an import", New(prog(0, 1, konst(5), konst(6), konst(7), konst(3), cellA(0x11, 2), drop, slid(1, 1), ret), s, h), 0, nil, 10, ok(10, 22))
+	runs(t, "an import", exec.New(prog(0, 1, konst(5), konst(6), konst(7), konst(3), cellA(0x11, 2), drop, slid(1, 1), ret), s, h), 0, nil, 10, ok(10, 22))
 	// A type is what its number says, however it looks.
 	p := prog(0, 1, call(3, 2)...)
 	p.Sigs = append(p.Sigs, sig(2, 1))
-	runs(t, "a like type", New(p, s, h), 0, nil, 10, fails(api.TrapSig, 10))
+	runs(t, "a like type", exec.New(p, s, h), 0, nil, 10, fails(api.TrapSig, 10))
 }
 
 // P20.1: imports.
@@ -237,7 +238,7 @@ func TestImports(t *testing.T) {
 	p.Sigs = append(p.Sigs, sig(1, 0), sig(2, 3))
 	p.Funcs = append(p.Funcs, api.Fn{Host: 1, Sig: 3, In: 1}, api.Fn{Host: 2, Sig: 3, In: 1}, api.Fn{Host: 0, Sig: 3, In: 1}, api.Fn{Host: 0, Sig: 4, In: 2, Out: 3}, api.Fn{Host: 1, Sig: 0}, api.Fn{Host: math.MaxInt, Sig: 0})
 	s, h := made(t, source()), host.New(21, 22, 1<<40+23)
-	m := New(p, s, h)
+	m := exec.New(p, s, h)
 	runs(t, "exit", m, 0, nil, 10, api.Outcome{Err: api.ErrExit, Code: 7, Left: 9})
 	for f := 4; f <= 8; f++ {
 		runs(t, f, m, f, make([]uint64, p.Funcs[f].In), 10, fails(api.ErrBad, 10))
@@ -250,7 +251,7 @@ func TestImports(t *testing.T) {
 	if !reflect.DeepEqual(h.Log(), want) {
 		t.Error(h.Log())
 	}
-	runs(t, "a full log", New(prog(0, 0, konst(1), konst(2), konst(3), cellA(0x10, 2), slid(0, 3), cellA(0x0c, 0)), s, h), 0, nil, 5, fails(api.ErrLog, 5))
+	runs(t, "a full log", exec.New(prog(0, 0, konst(1), konst(2), konst(3), cellA(0x10, 2), slid(0, 3), cellA(0x0c, 0)), s, h), 0, nil, 5, fails(api.ErrLog, 5))
 }
 
 // P20.1: depth and hops.
@@ -289,15 +290,15 @@ func TestDepthAndHops(t *testing.T) {
 func TestErrors(t *testing.T) {
 	s, h := made(t, source()), host.New()
 	p := prog(2, 2, cellA(0x20, 0), cellA(0x20, 1), ret)
-	var none *Machine
-	for _, m := range []*Machine{none, New(p, nil, h), New(p, s, nil), New(api.Prog{}, nil, nil)} {
+	var none *exec.Machine
+	for _, m := range []*exec.Machine{none, exec.New(p, nil, h), exec.New(p, s, nil), exec.New(api.Prog{}, nil, nil)} {
 		runs(t, "nil", m, 9, nil, 10, fails(api.ErrNil, 0))
 	}
-	if New(p, nil, nil) == nil {
+	if exec.New(p, nil, nil) == nil {
 		t.Error("New answers nil")
 	}
 	bad := prog(2, 2, cell(0x41), ret)
-	for i, m := range []*Machine{New(p, s, h), New(bad, s, h)} {
+	for i, m := range []*exec.Machine{exec.New(p, s, h), exec.New(bad, s, h)} {
 		for _, f := range []int{-1, 3, math.MinInt, math.MaxInt} {
 			runs(t, f, m, f, []uint64{1, 2}, 10, fails(api.ErrArg, 0))
 		}
@@ -307,9 +308,9 @@ func TestErrors(t *testing.T) {
 		runs(t, i, m, 0, []uint64{1, 2}, 10, []api.Outcome{ok(10, 1, 2), fails(api.ErrBad, 0)}[i])
 	}
 	p.Sigs[0].In[1] = i32
-	runs(t, "cut", New(p, s, h), 0, []uint64{1<<40 + 1, 1<<40 + 2}, 10, ok(10, 1<<40+1, 2))
+	runs(t, "cut", exec.New(p, s, h), 0, []uint64{1<<40 + 1, 1<<40 + 2}, 10, ok(10, 1<<40+1, 2))
 	for fuel, left := range map[int]int{-1: 0, math.MinInt: 0, 100000: 100000, 100001: 100000, math.MaxInt: 100000} {
-		runs(t, fuel, New(p, s, h), 0, []uint64{1, 2}, fuel, ok(left, 1, 2))
+		runs(t, fuel, exec.New(p, s, h), 0, []uint64{1, 2}, fuel, ok(left, 1, 2))
 	}
 }
 
@@ -317,7 +318,7 @@ func TestErrors(t *testing.T) {
 func TestKept(t *testing.T) {
 	s, h := made(t, source()), host.New()
 	p := prog(1, 2, cellA(0x20, 1), cellA(0x20, 0), cellA(0x21, 1), konst(0), cell(0x29), konst(0), konst(77), cell(0x37), ret)
-	m := New(p, s, h)
+	m := exec.New(p, s, h)
 	p.Funcs[0].Cells[0], p.Sigs[0].In[0] = cell(0), v128
 	args := []uint64{5}
 	one := m.Run(0, args, 10)

@@ -1,4 +1,4 @@
-package expr
+package expr_test
 
 import (
 	"bytes"
@@ -10,6 +10,7 @@ import (
 	"testing"
 
 	"plait/api"
+	"plait/expr"
 	"plait/instr"
 	"plait/leb"
 )
@@ -124,16 +125,16 @@ func TestThereAndBack(t *testing.T) {
 		}
 		for _, p := range ps {
 			code, b := closed(p, info.Form)
-			got, to, e := Read(slices.Concat([]byte{9, 9}, b, []byte{1, 2}), 2)
+			got, to, e := expr.Read(slices.Concat([]byte{9, 9}, b, []byte{1, 2}), 2)
 			if !same(got, code) || to != 2+len(b) || e != 0 {
 				t.Errorf("Read(% x): %v, %d, %d", b, got, to, e)
 			}
-			w, e := Write(code)
+			w, e := expr.Write(code)
 			if !bytes.Equal(w, b) || e != 0 {
 				t.Errorf("Write(%v): % x, %d, want % x", code, w, e, b)
 			}
 			for n := range len(b) {
-				if got, to, e := Read(b[:n:n], 0); got != nil || to != 0 || e != api.ErrForm {
+				if got, to, e := expr.Read(b[:n:n], 0); got != nil || to != 0 || e != api.ErrForm {
 					t.Errorf("Read(% x): %v, %d, %d", b[:n], got, to, e)
 				}
 			}
@@ -151,7 +152,7 @@ func TestOpcodes(t *testing.T) {
 			want = api.ErrFloat
 		}
 		for _, tail := range []string{"", "0b", "00000000 0b"} {
-			if code, to, e := Read(append([]byte{byte(n)}, unhex(tail)...), 0); code != nil || to != 0 || e != want {
+			if code, to, e := expr.Read(append([]byte{byte(n)}, unhex(tail)...), 0); code != nil || to != 0 || e != want {
 				t.Errorf("%x: %v %d %d", n, code, to, e)
 			}
 		}
@@ -163,7 +164,7 @@ func TestOpcodes(t *testing.T) {
 		} else if n < 256 && instr.Float(0xfd00+int(n)) {
 			want = api.ErrFloat
 		}
-		if _, _, e := Read(append(append([]byte{0xfd}, leb.PutU(n)...), 0x0b), 0); e != want {
+		if _, _, e := expr.Read(append(append([]byte{0xfd}, leb.PutU(n)...), 0x0b), 0); e != want {
 			t.Errorf("fd %x: %d", n, e)
 		}
 	}
@@ -172,7 +173,7 @@ func TestOpcodes(t *testing.T) {
 		if n < 8 {
 			want = api.ErrFloat
 		}
-		if _, _, e := Read(append(append([]byte{0xfc}, leb.PutU(n)...), 0, 0, 0x0b), 0); e != want {
+		if _, _, e := expr.Read(append(append([]byte{0xfc}, leb.PutU(n)...), 0, 0, 0x0b), 0); e != want {
 			t.Errorf("fc %x: %d", n, e)
 		}
 	}
@@ -197,7 +198,7 @@ func TestReadErrors(t *testing.T) {
 		{"0effffffff0f 00", api.ErrForm}, {"0e02 00 01 0b", api.ErrForm}, {"0e01 00 01 0b", 0}, {"43 05", api.ErrFloat}, {"05 43", api.ErrForm},
 	}
 	for _, r := range rows {
-		code, to, e := Read(unhex(r.b), 0)
+		code, to, e := expr.Read(unhex(r.b), 0)
 		if e != r.e || e != 0 && (code != nil || to != 0) || e == 0 && to != len(unhex(r.b)) {
 			t.Errorf("%s: %v %d %d, want %d", r.b, code, to, e, r.e)
 		}
@@ -208,20 +209,20 @@ func TestReadErrors(t *testing.T) {
 func TestPlaces(t *testing.T) {
 	b := unhex("0b 41050b 00")
 	for at, want := range map[int]api.Errno{-1: api.ErrArg, 6: api.ErrArg, math.MinInt: api.ErrArg, math.MaxInt: api.ErrArg, 5: api.ErrForm, 4: api.ErrForm} {
-		if code, to, e := Read(b, at); code != nil || to != 0 || e != want {
+		if code, to, e := expr.Read(b, at); code != nil || to != 0 || e != want {
 			t.Error(at, code, to, e)
 		}
 	}
-	if code, to, e := Read(b, 0); !same(code, []api.Instr{{Op: 0x0b}}) || to != 1 || e != 0 {
+	if code, to, e := expr.Read(b, 0); !same(code, []api.Instr{{Op: 0x0b}}) || to != 1 || e != 0 {
 		t.Error(code, to, e)
 	}
-	if code, to, e := Read(b, 1); !same(code, []api.Instr{{Op: 0x41, Lo: 5}, {Op: 0x0b}}) || to != 4 || e != 0 {
+	if code, to, e := expr.Read(b, 1); !same(code, []api.Instr{{Op: 0x41, Lo: 5}, {Op: 0x0b}}) || to != 4 || e != 0 {
 		t.Error(code, to, e)
 	}
-	if _, _, e := Read(nil, 0); e != api.ErrForm {
+	if _, _, e := expr.Read(nil, 0); e != api.ErrForm {
 		t.Error(e)
 	}
-	if _, _, e := Read(nil, 1); e != api.ErrArg {
+	if _, _, e := expr.Read(nil, 1); e != api.ErrArg {
 		t.Error(e)
 	}
 }
@@ -233,11 +234,11 @@ func TestLongForms(t *testing.T) {
 		{"11 8100 8000 0b", "110100 0b"}, {"28 8200 ffff00 0b", "2802ff7f 0b"}, {"fd d4 00 8000 8100 05 0b", "fd54 00 01 05 0b"}, {"fd ee8000 0b", "fd6e 0b"}, {"fd ce81 8000 0b", "fdce01 0b"},
 	}
 	for _, r := range rows {
-		code, _, e := Read(unhex(r[0]), 0)
+		code, _, e := expr.Read(unhex(r[0]), 0)
 		if e != 0 {
 			t.Error(r, e)
 		}
-		b, e := Write(code)
+		b, e := expr.Write(code)
 		if e != 0 || !bytes.Equal(b, unhex(r[1])) {
 			t.Errorf("%s: % x", r[0], b)
 		}
@@ -252,7 +253,7 @@ func TestWriteFields(t *testing.T) {
 		for i, in := range bad {
 			in.Op = op
 			code, _ := closed(piece{in: in}, info.Form)
-			b, e := Write(code)
+			b, e := expr.Write(code)
 			if good := ok && goodFields(in, info.Form); good != (e == 0) || !good && (e != api.ErrArg || b != nil) {
 				t.Fatalf("%d of %x: % x, %d", i, op, b, e)
 			}
@@ -308,22 +309,22 @@ func TestWriteBlocks(t *testing.T) {
 	}
 	good := [][]api.Instr{{end}, {nop, end}, {if1, els, end, end}, {if1, block, end, els, block, end, end, end}, {{Op: 2, A: -1}, end, end}, deep(128), append(slices.Clip(deep(128)[:256]), block, end, end), {{Op: 0x0e, L: []int{}}, end}}
 	for i, code := range good {
-		b, e := Write(code)
+		b, e := expr.Write(code)
 		if e != 0 {
 			t.Error(i, e)
 		}
-		if got, _, e := Read(b, 0); !same(got, code) || e != 0 {
+		if got, _, e := expr.Read(b, 0); !same(got, code) || e != 0 {
 			t.Error(i, got, e)
 		}
 	}
 	bad := [][]api.Instr{nil, {}, {nop}, {end, end}, {end, nop}, {els, end}, {if1, els, els, end, end}, {block, els, end, end}, {if1, block, els, end, end, end}, {block, end}, {if1, els, end}, deep(129),
 		{{Op: 0x6a, A: 1}, end}, {{Op: 0x41, Lo: 1 << 32}, end}, {{Op: 0x2a}, end}, {{Op: 0xfd13}, end}, {{Op: -1}, end}, {{Op: 0xfe00}, end}, {nop, {Op: 0x0b, A: 1}}, {{Op: 0xfd}, end}, {{Op: 0xfc}, end}}
 	for i, code := range bad {
-		if b, e := Write(code); b != nil || e != api.ErrArg {
+		if b, e := expr.Write(code); b != nil || e != api.ErrArg {
 			t.Errorf("%d: % x, %d", i, b, e)
 		}
 	}
-	if b, _ := Write([]api.Instr{{Op: 2, A: -1}, end, end}); !bytes.Equal(b, unhex("027f0b0b")) {
+	if b, _ := expr.Write([]api.Instr{{Op: 2, A: -1}, end, end}); !bytes.Equal(b, unhex("027f0b0b")) {
 		t.Errorf("% x", b)
 	}
 }
@@ -331,16 +332,16 @@ func TestWriteBlocks(t *testing.T) {
 // P12.4
 func TestMemory(t *testing.T) {
 	b := unhex("0e02000100 0b")
-	one, _, _ := Read(b, 0)
-	two, _, _ := Read(b, 0)
+	one, _, _ := expr.Read(b, 0)
+	two, _, _ := expr.Read(b, 0)
 	one[0].L[0] = 9
 	if two[0].L[0] != 0 || !bytes.Equal(b, unhex("0e020001000b")) {
 		t.Error("Read shares memory")
 	}
 	labels := []int{1, 2}
 	code := []api.Instr{{Op: 0x0e, L: labels, A: 3}, {Op: 0x0b}}
-	w, _ := Write(code)
-	x, _ := Write(code)
+	w, _ := expr.Write(code)
+	x, _ := expr.Write(code)
 	w[0] = 0
 	if x[0] != 0x0e || !same(code, []api.Instr{{Op: 0x0e, L: []int{1, 2}, A: 3}, {Op: 0x0b}}) {
 		t.Error("Write shares memory")

@@ -1,4 +1,4 @@
-package flat
+package flat_test
 
 import (
 	"bytes"
@@ -9,6 +9,7 @@ import (
 	"plait/api"
 	"plait/cells"
 	"plait/exec"
+	"plait/flat"
 	"plait/host"
 	"plait/instr"
 	"plait/interp"
@@ -90,7 +91,7 @@ func bodies() []api.Module {
 // checked compiles a module, and looks whether its program is as it must be.
 func checked(t *testing.T, what any, m api.Module) api.Prog {
 	t.Helper()
-	p, e := Module(m)
+	p, e := flat.Module(m)
 	if e != 0 {
 		t.Fatalf("%v: %d", what, e)
 	}
@@ -392,7 +393,7 @@ func TestEnds(t *testing.T) {
 func TestErrors(t *testing.T) {
 	m := one(nil, nil, nil, c32(1))
 	for _, want := range []api.Errno{api.ErrValid, api.ErrLong, api.ErrArg} {
-		if p, e := Module(m); e != want || !reflect.DeepEqual(p, api.Prog{}) {
+		if p, e := flat.Module(m); e != want || !reflect.DeepEqual(p, api.Prog{}) {
 			t.Error(e, want)
 		}
 		if want == api.ErrLong {
@@ -400,7 +401,7 @@ func TestErrors(t *testing.T) {
 		}
 		m.Datas = []api.Data{{Offset: code{c32(0), end}, Bytes: make([]byte, 20000)}}
 	}
-	if p, e := Module(api.Module{Start: -1}); e != 0 || len(p.Funcs) != 0 || len(p.Sigs) != 0 {
+	if p, e := flat.Module(api.Module{Start: -1}); e != 0 || len(p.Funcs) != 0 || len(p.Sigs) != 0 {
 		t.Error(p, e)
 	}
 }
@@ -409,8 +410,8 @@ func TestErrors(t *testing.T) {
 func TestMemory(t *testing.T) {
 	for seed := range uint64(30) {
 		m := trial.Module(seed)
-		a, _ := Module(m)
-		b, _ := Module(m)
+		a, _ := flat.Module(m)
+		b, _ := flat.Module(m)
 		if !reflect.DeepEqual(a, b) || !reflect.DeepEqual(m, trial.Module(seed)) {
 			t.Error("another image, or another module", seed)
 		}
@@ -427,7 +428,7 @@ func TestMemory(t *testing.T) {
 				a.Sigs[k].In[i] = 5
 			}
 		}
-		if c, _ := Module(m); !reflect.DeepEqual(b, c) || !reflect.DeepEqual(m, trial.Module(seed)) {
+		if c, _ := flat.Module(m); !reflect.DeepEqual(b, c) || !reflect.DeepEqual(m, trial.Module(seed)) {
 			t.Error("memory is shared", seed)
 		}
 	}

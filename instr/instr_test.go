@@ -1,4 +1,4 @@
-package instr
+package instr_test
 
 import (
 	"math"
@@ -8,6 +8,7 @@ import (
 	"testing"
 
 	"plait/api"
+	"plait/instr"
 )
 
 // table is the document's table: opcodes, form, limit, types.
@@ -174,14 +175,14 @@ var outside = []int{math.MinInt, math.MaxInt, -0xfd00, 0xfcff, 0xfe00, 1<<32 + 0
 func TestOf(t *testing.T) {
 	want := rows()
 	for op := -0x200; op < 0x10200; op++ {
-		info, ok := Of(op)
+		info, ok := instr.Of(op)
 		w, there := want[op]
 		if ok != there || !same(info, w) {
 			t.Errorf("%x: %v %v, want %v", op, info, ok, w)
 		}
 	}
 	for _, op := range outside {
-		if info, ok := Of(op); ok || !same(info, api.Info{}) {
+		if info, ok := instr.Of(op); ok || !same(info, api.Info{}) {
 			t.Errorf("%x: %v", op, info)
 		}
 	}
@@ -197,15 +198,15 @@ func TestFloat(t *testing.T) {
 		}
 	}
 	for op := -0x200; op < 0x10200; op++ {
-		if Float(op) != want[op] {
-			t.Errorf("%x: %v", op, Float(op))
+		if instr.Float(op) != want[op] {
+			t.Errorf("%x: %v", op, instr.Float(op))
 		}
-		if _, ok := Of(op); ok && Float(op) {
+		if _, ok := instr.Of(op); ok && instr.Float(op) {
 			t.Errorf("%x is both", op)
 		}
 	}
 	for _, op := range outside {
-		if Float(op) {
+		if instr.Float(op) {
 			t.Errorf("%x", op)
 		}
 	}
@@ -213,8 +214,8 @@ func TestFloat(t *testing.T) {
 
 // P4.3
 func TestMemory(t *testing.T) {
-	one, _ := Of(0xfd52)
-	two, _ := Of(0xfd52)
+	one, _ := instr.Of(0xfd52)
+	two, _ := instr.Of(0xfd52)
 	one.In[0], one.Out[0] = 1, 2
 	if two.In[0] != api.V128 || two.Out[0] != api.V128 {
 		t.Error("answers share memory")

@@ -1,4 +1,4 @@
-package interp
+package interp_test
 
 import (
 	"bytes"
@@ -10,6 +10,7 @@ import (
 	"plait/api"
 	"plait/host"
 	"plait/instr"
+	"plait/interp"
 	"plait/num"
 	"plait/store"
 	"plait/vector"
@@ -59,14 +60,14 @@ func with(fns ...fn) api.Module {
 	return m
 }
 
-func machine(t *testing.T, m api.Module) (*Machine, *store.Store, *host.Host) {
+func machine(t *testing.T, m api.Module) (*interp.Machine, *store.Store, *host.Host) {
 	t.Helper()
 	s, e := store.New(m)
 	if e != 0 {
 		t.Fatalf("store.New: %d", e)
 	}
 	h := host.New(101, 102, 103)
-	return New(s, h), s, h
+	return interp.New(s, h), s, h
 }
 
 // same tells whether two outcomes are alike.
@@ -74,7 +75,7 @@ func alike(a, b api.Outcome) bool {
 	return a.Err == b.Err && a.Code == b.Code && a.Left == b.Left && slices.Equal(a.Results, b.Results)
 }
 
-func runs(t *testing.T, what any, m *Machine, f int, args []uint64, fuel int, want api.Outcome) {
+func runs(t *testing.T, what any, m *interp.Machine, f int, args []uint64, fuel int, want api.Outcome) {
 	t.Helper()
 	if got := m.Run(f, args, fuel); !alike(got, want) || got.Err != 0 && got.Results != nil {
 		t.Errorf("%v: %+v, want %+v", what, got, want)
@@ -345,16 +346,16 @@ func TestTraps(t *testing.T) {
 func TestErrors(t *testing.T) {
 	s, _ := store.New(with(fn{in: []int{i32, v128}}))
 	h := host.New()
-	var none *Machine
-	for _, m := range []*Machine{none, New(nil, nil), New(s, nil), New(nil, h)} {
+	var none *interp.Machine
+	for _, m := range []*interp.Machine{none, interp.New(nil, nil), interp.New(s, nil), interp.New(nil, h)} {
 		for _, f := range []int{0, -1, 5} {
 			runs(t, f, m, f, []uint64{1}, 10, fails(api.ErrNil, 0))
 		}
 	}
-	if New(nil, nil) == nil {
+	if interp.New(nil, nil) == nil {
 		t.Error("New answers nil")
 	}
-	m := New(s, h)
+	m := interp.New(s, h)
 	for _, f := range []int{-1, 1, math.MinInt, math.MaxInt} {
 		runs(t, f, m, f, []uint64{1, 2, 3}, 10, fails(api.ErrArg, 0))
 	}

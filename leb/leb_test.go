@@ -1,4 +1,4 @@
-package leb
+package leb_test
 
 import (
 	"bytes"
@@ -7,6 +7,7 @@ import (
 	"testing"
 
 	"plait/api"
+	"plait/leb"
 )
 
 // oracle reads a number by the words of P1.1 and P1.2, over numbers without end.
@@ -46,7 +47,7 @@ func oracle(b []byte, at, bits int, signed bool) (*big.Int, int, api.Errno) {
 
 func agree(t *testing.T, b []byte, at, bits int) {
 	t.Helper()
-	n, to, e := U(b, at, bits)
+	n, to, e := leb.U(b, at, bits)
 	want, wto, we := oracle(b, at, bits, false)
 	if want == nil {
 		want = new(big.Int)
@@ -54,7 +55,7 @@ func agree(t *testing.T, b []byte, at, bits int) {
 	if new(big.Int).SetUint64(n).Cmp(want) != 0 || to != wto || e != we {
 		t.Fatalf("U(% x, %d, %d): %d, %d, %d; want %v, %d, %d", b, at, bits, n, to, e, want, wto, we)
 	}
-	s, to, e := S(b, at, bits)
+	s, to, e := leb.S(b, at, bits)
 	want, wto, we = oracle(b, at, bits, true)
 	if want == nil {
 		want = new(big.Int)
@@ -108,16 +109,16 @@ func TestReadPlaces(t *testing.T) {
 }
 
 func TestReadExamples(t *testing.T) {
-	if n, to, e := U([]byte{0xe5, 0x8e, 0x26}, 0, 32); n != 624485 || to != 3 || e != 0 {
+	if n, to, e := leb.U([]byte{0xe5, 0x8e, 0x26}, 0, 32); n != 624485 || to != 3 || e != 0 {
 		t.Error(n, to, e)
 	}
-	if n, to, e := U([]byte{0xff, 0xff, 0xff, 0xff, 0x0f}, 0, 32); n != 1<<32-1 || to != 5 || e != 0 {
+	if n, to, e := leb.U([]byte{0xff, 0xff, 0xff, 0xff, 0x0f}, 0, 32); n != 1<<32-1 || to != 5 || e != 0 {
 		t.Error(n, to, e)
 	}
-	if n, to, e := S([]byte{0xc0, 0xbb, 0x78}, 0, 32); n != -123456 || to != 3 || e != 0 {
+	if n, to, e := leb.S([]byte{0xc0, 0xbb, 0x78}, 0, 32); n != -123456 || to != 3 || e != 0 {
 		t.Error(n, to, e)
 	}
-	if _, _, e := S([]byte{0xff, 0xff, 0xff, 0xff, 0x4f}, 0, 32); e != api.ErrLeb {
+	if _, _, e := leb.S([]byte{0xff, 0xff, 0xff, 0xff, 0x4f}, 0, 32); e != api.ErrLeb {
 		t.Error(e)
 	}
 }
@@ -132,8 +133,8 @@ func TestPut(t *testing.T) {
 		}
 	}
 	for _, n := range us {
-		b := PutU(n)
-		if m, to, e := U(b, 0, 64); m != n || to != len(b) || e != 0 {
+		b := leb.PutU(n)
+		if m, to, e := leb.U(b, 0, 64); m != n || to != len(b) || e != 0 {
 			t.Fatalf("%d: % x", n, b)
 		}
 		if len(b) > 1 && b[len(b)-1] == 0 {
@@ -141,8 +142,8 @@ func TestPut(t *testing.T) {
 		}
 	}
 	for _, n := range ss {
-		b := PutS(n)
-		if m, to, e := S(b, 0, 64); m != n || to != len(b) || e != 0 {
+		b := leb.PutS(n)
+		if m, to, e := leb.S(b, 0, 64); m != n || to != len(b) || e != 0 {
 			t.Fatalf("%d: % x", n, b)
 		}
 		if k := len(b) - 1; k > 0 && (b[k] == 0 && b[k-1]&0x40 == 0 || b[k] == 0x7f && b[k-1]&0x40 != 0) {
@@ -153,13 +154,13 @@ func TestPut(t *testing.T) {
 
 // P1.3: rows stand one behind the other; of no number there is no byte.
 func TestPutRows(t *testing.T) {
-	if b := PutU(624485, 0, 128); !bytes.Equal(b, []byte{0xe5, 0x8e, 0x26, 0, 0x80, 1}) {
+	if b := leb.PutU(624485, 0, 128); !bytes.Equal(b, []byte{0xe5, 0x8e, 0x26, 0, 0x80, 1}) {
 		t.Errorf("% x", b)
 	}
-	if b := PutS(-123456, 63, 64, -64, -65); !bytes.Equal(b, []byte{0xc0, 0xbb, 0x78, 0x3f, 0xc0, 0, 0x40, 0xbf, 0x7f}) {
+	if b := leb.PutS(-123456, 63, 64, -64, -65); !bytes.Equal(b, []byte{0xc0, 0xbb, 0x78, 0x3f, 0xc0, 0, 0x40, 0xbf, 0x7f}) {
 		t.Errorf("% x", b)
 	}
-	if len(PutU()) != 0 || len(PutS()) != 0 {
+	if len(leb.PutU()) != 0 || len(leb.PutS()) != 0 {
 		t.Error("of nothing something")
 	}
 }
@@ -167,22 +168,22 @@ func TestPutRows(t *testing.T) {
 // P1.4: longer forms are read; lists stay; answers are new memory.
 func TestMemory(t *testing.T) {
 	b := []byte{0x80, 0x00, 9}
-	if n, to, e := U(b, 0, 32); n != 0 || to != 2 || e != 0 {
+	if n, to, e := leb.U(b, 0, 32); n != 0 || to != 2 || e != 0 {
 		t.Error(n, to, e)
 	}
-	if n, to, e := S([]byte{0xff, 0xff, 0x7f}, 0, 32); n != -1 || to != 3 || e != 0 {
+	if n, to, e := leb.S([]byte{0xff, 0xff, 0x7f}, 0, 32); n != -1 || to != 3 || e != 0 {
 		t.Error(n, to, e)
 	}
 	if !bytes.Equal(b, []byte{0x80, 0x00, 9}) {
 		t.Error("the bytes have changed")
 	}
 	us, ss := []uint64{300, 2}, []int64{-300, 2}
-	one, two := PutU(us...), PutU(us...)
+	one, two := leb.PutU(us...), leb.PutU(us...)
 	one[0] = 0
 	if two[0] == 0 || us[0] != 300 {
 		t.Error("PutU shares memory")
 	}
-	three, four := PutS(ss...), PutS(ss...)
+	three, four := leb.PutS(ss...), leb.PutS(ss...)
 	three[0] = 0
 	if four[0] == 0 || ss[0] != -300 {
 		t.Error("PutS shares memory")

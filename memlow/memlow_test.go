@@ -1,4 +1,4 @@
-package memlow
+package memlow_test
 
 import (
 	"bytes"
@@ -8,6 +8,7 @@ import (
 
 	"plait/api"
 	"plait/instr"
+	"plait/memlow"
 	"plait/pair"
 	"plait/store"
 	"plait/trial"
@@ -56,13 +57,13 @@ func ends(s *store.Store) []byte {
 func TestIs(t *testing.T) {
 	for op := -0x200; op < 0x10200; op++ {
 		want := vmem.Size(op) != 0
-		cells, n, e := Seq(api.Instr{Op: op, A: -7, Hi: 5, L: []int{1}}, 0)
-		if Is(op) != want || want != (e == 0) || !want && (e != api.ErrArg || cells != nil || n != 0) {
-			t.Errorf("%x: %v, %d", op, Is(op), e)
+		cells, n, e := memlow.Seq(api.Instr{Op: op, A: -7, Hi: 5, L: []int{1}}, 0)
+		if memlow.Is(op) != want || want != (e == 0) || !want && (e != api.ErrArg || cells != nil || n != 0) {
+			t.Errorf("%x: %v, %d", op, memlow.Is(op), e)
 		}
 	}
 	for _, op := range []int{math.MinInt, math.MaxInt, 1<<32 + 0xfd00, 0x28, 0xfd6e} {
-		if _, _, e := Seq(api.Instr{Op: op}, 0); Is(op) || e != api.ErrArg {
+		if _, _, e := memlow.Seq(api.Instr{Op: op}, 0); memlow.Is(op) || e != api.ErrArg {
 			t.Errorf("%x", op)
 		}
 	}
@@ -72,7 +73,7 @@ func TestIs(t *testing.T) {
 func TestFields(t *testing.T) {
 	check := func(in api.Instr, base int, want api.Errno) {
 		t.Helper()
-		cells, n, e := Seq(in, base)
+		cells, n, e := memlow.Seq(in, base)
 		if e != want || e != 0 && (cells != nil || n != 0) {
 			t.Errorf("%v, %d: %d, want %d", in, base, e, want)
 		}
@@ -108,7 +109,7 @@ func operands(op int, addr uint32) []uint64 {
 func agree(t *testing.T, in api.Instr, addr uint32, base int) {
 	t.Helper()
 	one, two := filled(t), filled(t)
-	cells, n, e := Seq(in, base)
+	cells, n, e := memlow.Seq(in, base)
 	if e != 0 {
 		t.Fatalf("%v: %d", in, e)
 	}
@@ -170,7 +171,7 @@ func TestBounds(t *testing.T) {
 func TestSizes(t *testing.T) {
 	for _, op := range ops() {
 		s, _ := store.New(api.Module{Start: -1, Mems: []api.Limits{{Min: 0, Max: 3}}})
-		cells, n, _ := Seq(api.Instr{Op: op}, 0)
+		cells, n, _ := memlow.Seq(api.Instr{Op: op}, 0)
 		info, _ := instr.Of(op)
 		q := trial.Sequence{Cells: cells, Used: n, Operands: operands(op, 0), Results: 2 * len(info.Out)}
 		if _, e, _ := q.Run(s); e != api.TrapBounds {
@@ -191,13 +192,13 @@ func TestSizes(t *testing.T) {
 // P24.3
 func TestMemory(t *testing.T) {
 	in := api.Instr{Op: 0xfd54, B: 5, Lo: 3, L: []int{7}}
-	one, n, _ := Seq(in, 9)
-	two, k, _ := Seq(in, 9)
+	one, n, _ := memlow.Seq(in, 9)
+	two, k, _ := memlow.Seq(in, 9)
 	if n != k || !slices.Equal(one, two) || in.L[0] != 7 {
 		t.Error("the answer hangs on more than the instruction and the base")
 	}
 	one[0].Op = -1
-	if three, _, _ := Seq(in, 9); two[0].Op == -1 || three[0].Op == -1 {
+	if three, _, _ := memlow.Seq(in, 9); two[0].Op == -1 || three[0].Op == -1 {
 		t.Error("memory is shared")
 	}
 }
@@ -206,17 +207,17 @@ func TestMemory(t *testing.T) {
 func TestExamples(t *testing.T) {
 	s := filled(t)
 	before := ends(s)
-	cells, n, _ := Seq(api.Instr{Op: 0xfd0b}, 0)
+	cells, n, _ := memlow.Seq(api.Instr{Op: 0xfd0b}, 0)
 	if _, e, _ := (trial.Sequence{Cells: cells, Used: n, Operands: []uint64{65521, 1, 2}}).Run(s); e != api.TrapBounds || !bytes.Equal(before, ends(s)) {
 		t.Error(e)
 	}
 	s.Memory().Poke(0, []byte{0xff, 1})
-	cells, n, _ = Seq(api.Instr{Op: 0xfd01}, 0)
+	cells, n, _ = memlow.Seq(api.Instr{Op: 0xfd01}, 0)
 	if got, e, _ := (trial.Sequence{Cells: cells, Used: n, Operands: []uint64{0}, Results: 2}).Run(s); e != 0 || uint32(got[0]) != 0x0001ffff {
 		t.Error(got, e)
 	}
 	for _, in := range []api.Instr{{Op: 0xfd00, B: 1 << 32}, {Op: 0xfd54, Lo: 16}, {Op: 0x28}} {
-		if _, _, e := Seq(in, 0); e != api.ErrArg {
+		if _, _, e := memlow.Seq(in, 0); e != api.ErrArg {
 			t.Error(in, e)
 		}
 	}

@@ -1,4 +1,4 @@
-package memory
+package memory_test
 
 import (
 	"bytes"
@@ -6,13 +6,14 @@ import (
 	"testing"
 
 	"plait/api"
+	"plait/memory"
 )
 
 const page = api.PageBytes
 
-func of(t *testing.T, least, most int) *Memory {
+func of(t *testing.T, least, most int) *memory.Memory {
 	t.Helper()
-	m, e := New(least, most)
+	m, e := memory.New(least, most)
 	if e != 0 || m == nil {
 		t.Fatal(least, most, e)
 	}
@@ -30,7 +31,7 @@ func TestNew(t *testing.T) {
 		{0, 70000, 0}, {0, 0, 0}, {0, -1, 0}, {16, -1, 0}, {16, 16, 0}, {3, math.MaxInt, 0},
 	}
 	for _, r := range rows {
-		m, e := New(r.least, r.most)
+		m, e := memory.New(r.least, r.most)
 		if e != r.e || (m == nil) != (e != 0) {
 			t.Error(r, m != nil, e)
 		}
@@ -198,7 +199,7 @@ func TestClone(t *testing.T) {
 
 // P10.5: a nil memory.
 func TestNil(t *testing.T) {
-	var m *Memory
+	var m *memory.Memory
 	if m.Clone() != nil || m.Pages() != 0 || m.Grow(0) != 1<<32-1 || m.Grow(1) != 1<<32-1 {
 		t.Error("nil")
 	}

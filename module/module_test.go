@@ -1,4 +1,4 @@
-package module
+package module_test
 
 import (
 	"bytes"
@@ -10,6 +10,7 @@ import (
 
 	"plait/api"
 	"plait/leb"
+	"plait/module"
 )
 
 var magic = []byte("\x00asm\x01\x00\x00\x00")
@@ -71,7 +72,7 @@ func full() ([][]byte, api.Module) {
 
 func check(t *testing.T, what string, b []byte, want api.Errno) {
 	t.Helper()
-	m, e := Decode(b)
+	m, e := module.Decode(b)
 	if e != want || e != 0 && !reflect.DeepEqual(m, api.Module{}) {
 		t.Errorf("%s: %d, want %d: %v", what, e, want, m)
 	}
@@ -95,7 +96,7 @@ func normal(m api.Module) api.Module {
 func TestFull(t *testing.T) {
 	sections, want := full()
 	b := whole(sections...)
-	m, e := Decode(b)
+	m, e := module.Decode(b)
 	if e != 0 || !reflect.DeepEqual(normal(m), want) {
 		t.Fatalf("%d\n%v\n%v", e, m, want)
 	}
@@ -256,7 +257,7 @@ func TestOrder(t *testing.T) {
 
 // P13.1, P13.2: the document's examples.
 func TestExamples(t *testing.T) {
-	m, e := Decode(magic)
+	m, e := module.Decode(magic)
 	if e != 0 || !reflect.DeepEqual(m, api.Module{Start: -1}) {
 		t.Error(m, e)
 	}
@@ -276,8 +277,8 @@ func TestExamples(t *testing.T) {
 func TestMemory(t *testing.T) {
 	sections, want := full()
 	b := whole(sections...)
-	one, _ := Decode(b)
-	two, _ := Decode(b)
+	one, _ := module.Decode(b)
+	two, _ := module.Decode(b)
 	for i := range b {
 		b[i] = 0xee
 	}

@@ -1,4 +1,4 @@
-package move
+package move_test
 
 import (
 	"encoding/binary"
@@ -6,6 +6,7 @@ import (
 	"testing"
 
 	"plait/api"
+	"plait/move"
 )
 
 var strange = []int{math.MinInt, math.MaxInt, -1, 0, 15, 0x15, 1<<32 + 0xfd15}
@@ -37,7 +38,7 @@ func TestSplat(t *testing.T) {
 	widths := map[int]int{0xfd0f: 8, 0xfd10: 16, 0xfd11: 32, 0xfd12: 64}
 	for _, op := range opcodes() {
 		for _, x := range []uint64{0, 1, 70000, 0x80, 0x123456789abcdef0, math.MaxUint64} {
-			v, e := Splat(op, x)
+			v, e := move.Splat(op, x)
 			w := widths[op]
 			if w == 0 {
 				if v != (api.Vec{}) || e != api.ErrArg {
@@ -52,7 +53,7 @@ func TestSplat(t *testing.T) {
 			}
 		}
 	}
-	if v, _ := Splat(0xfd10, 70000); lane(v, 16, 7) != 4464 {
+	if v, _ := move.Splat(0xfd10, 70000); lane(v, 16, 7) != 4464 {
 		t.Errorf("%x", v)
 	}
 }
@@ -65,7 +66,7 @@ func TestExtract(t *testing.T) {
 		for _, op := range opcodes() {
 			for _, i := range []int{math.MinInt, -1, 0, 1, 2, 3, 4, 5, 7, 8, 9, 15, 16, 17, math.MaxInt} {
 				w := widths[op]
-				x, e := Extract(op, i, v)
+				x, e := move.Extract(op, i, v)
 				if w == 0 || i < 0 || i >= 128/w {
 					if x != 0 || e != api.ErrArg {
 						t.Errorf("%x %d: %x %d", op, i, x, e)
@@ -82,10 +83,10 @@ func TestExtract(t *testing.T) {
 			}
 		}
 	}
-	if x, e := Extract(0xfd15, 0, ramp(255, 0)); x != 1<<32-1 || e != 0 {
+	if x, e := move.Extract(0xfd15, 0, ramp(255, 0)); x != 1<<32-1 || e != 0 {
 		t.Error(x, e)
 	}
-	if x, e := Extract(0xfd16, 0, ramp(255, 0)); x != 255 || e != 0 {
+	if x, e := move.Extract(0xfd16, 0, ramp(255, 0)); x != 255 || e != 0 {
 		t.Error(x, e)
 	}
 }
@@ -98,7 +99,7 @@ func TestReplace(t *testing.T) {
 	for _, op := range opcodes() {
 		for _, i := range []int{math.MinInt, -1, 0, 1, 2, 3, 4, 5, 7, 8, 9, 15, 16, 17, math.MaxInt} {
 			w := widths[op]
-			got, e := Replace(op, i, v, x)
+			got, e := move.Replace(op, i, v, x)
 			if w == 0 || i < 0 || i >= 128/w {
 				if got != (api.Vec{}) || e != api.ErrArg {
 					t.Errorf("%x %d: %x %d", op, i, got, e)
@@ -121,10 +122,10 @@ func TestReplace(t *testing.T) {
 // P7.3
 func TestShuffle(t *testing.T) {
 	a, b := ramp(100, 1), ramp(200, 1)
-	if v, e := Shuffle(ramp(0, 1), a, b); v != a || e != 0 {
+	if v, e := move.Shuffle(ramp(0, 1), a, b); v != a || e != 0 {
 		t.Error(v, e)
 	}
-	if v, e := Shuffle(ramp(16, 1), a, b); v != b || e != 0 {
+	if v, e := move.Shuffle(ramp(16, 1), a, b); v != b || e != 0 {
 		t.Error(v, e)
 	}
 	for step := range 32 {
@@ -132,7 +133,7 @@ func TestShuffle(t *testing.T) {
 		for i := range sel {
 			sel[i] %= 32
 		}
-		v, e := Shuffle(sel, a, b)
+		v, e := move.Shuffle(sel, a, b)
 		for i, k := range sel {
 			want := append(a[:], b[:]...)[k]
 			if v[i] != want || e != 0 {
@@ -144,7 +145,7 @@ func TestShuffle(t *testing.T) {
 		for _, bad := range []byte{32, 33, 128, 255} {
 			sel := ramp(0, 1)
 			sel[i] = bad
-			if v, e := Shuffle(sel, a, b); v != (api.Vec{}) || e != api.ErrArg {
+			if v, e := move.Shuffle(sel, a, b); v != (api.Vec{}) || e != api.ErrArg {
 				t.Error(sel, v, e)
 			}
 		}
@@ -156,7 +157,7 @@ func TestSwizzle(t *testing.T) {
 	a := ramp(100, 1)
 	for first := range 256 {
 		b := ramp(first, 37)
-		v := Swizzle(a, b)
+		v := move.Swizzle(a, b)
 		for i, k := range b {
 			want := byte(0)
 			if k < 16 {
@@ -167,10 +168,10 @@ func TestSwizzle(t *testing.T) {
 			}
 		}
 	}
-	if v := Swizzle(a, ramp(16, 0)); v != (api.Vec{}) {
+	if v := move.Swizzle(a, ramp(16, 0)); v != (api.Vec{}) {
 		t.Error(v)
 	}
-	if v := Swizzle(a, ramp(15, -1)); v != ramp(115, -1) {
+	if v := move.Swizzle(a, ramp(15, -1)); v != ramp(115, -1) {
 		t.Error(v)
 	}
 }

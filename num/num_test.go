@@ -1,4 +1,4 @@
-package num
+package num_test
 
 import (
 	"math"
@@ -7,6 +7,7 @@ import (
 	"testing"
 
 	"plait/api"
+	"plait/num"
 )
 
 var names = map[int]string{
@@ -168,12 +169,12 @@ func TestArity(t *testing.T) {
 		if unary[op] {
 			want = 1
 		}
-		if Arity(op) != want {
-			t.Errorf("%x: %d", op, Arity(op))
+		if num.Arity(op) != want {
+			t.Errorf("%x: %d", op, num.Arity(op))
 		}
 	}
 	for _, op := range []int{math.MinInt, math.MaxInt, 0xfd6e, 1<<32 + 0x6a, -1<<32 + 0x45} {
-		if Arity(op) != 0 {
+		if num.Arity(op) != 0 {
 			t.Errorf("%x", op)
 		}
 	}
@@ -183,7 +184,7 @@ func TestArity(t *testing.T) {
 func TestUn(t *testing.T) {
 	for op := range names {
 		for _, x := range samples() {
-			z, e := Un(op, x)
+			z, e := num.Un(op, x)
 			if !unary[op] {
 				if z != 0 || e != api.ErrArg {
 					t.Fatalf("%x", op)
@@ -200,7 +201,7 @@ func TestBin(t *testing.T) {
 	for op := range names {
 		for _, x := range samples() {
 			for _, y := range samples() {
-				z, e := Bin(op, x, y)
+				z, e := num.Bin(op, x, y)
 				if unary[op] {
 					if z != 0 || e != api.ErrArg {
 						t.Fatalf("%x", op)
@@ -226,7 +227,7 @@ func TestExamples(t *testing.T) {
 		{0x7f, 1 << 63, 1<<64 - 1, 0, api.TrapOver}, {0x81, 1 << 63, 1<<64 - 1, 0, 0}, {0x82, 5, 0, 0, api.TrapZero}, {-1, 5, 0, 0, api.ErrArg},
 	}
 	for _, r := range rows {
-		if z, e := Bin(r.op, r.x, r.y); z != r.z || e != r.e {
+		if z, e := num.Bin(r.op, r.x, r.y); z != r.z || e != r.e {
 			t.Errorf("%x %x %x: %x %d", r.op, r.x, r.y, z, e)
 		}
 	}
@@ -239,7 +240,7 @@ func TestExamples(t *testing.T) {
 		{0xc2, 128, 1<<64 - 128, 0}, {0x6a, 1, 0, api.ErrArg}, {0, 1, 0, api.ErrArg}, {math.MaxInt, 1, 0, api.ErrArg},
 	}
 	for _, r := range ones {
-		if z, e := Un(r.op, r.x); z != r.z || e != r.e {
+		if z, e := num.Un(r.op, r.x); z != r.z || e != r.e {
 			t.Errorf("%x %x: %x %d", r.op, r.x, z, e)
 		}
 	}

@@ -1,4 +1,4 @@
-package permute
+package permute_test
 
 import (
 	"math"
@@ -9,6 +9,7 @@ import (
 	"plait/arith"
 	"plait/compare"
 	"plait/instr"
+	"plait/permute"
 	"plait/store"
 	"plait/trial"
 	"plait/vector"
@@ -39,21 +40,21 @@ func lanes(op int) int {
 // P23.1
 func TestIs(t *testing.T) {
 	for op := -0x200; op < 0x10200; op++ {
-		if Is(op) != mine(op) {
+		if permute.Is(op) != mine(op) {
 			t.Errorf("%x", op)
 		}
-		cells, n, e := Seq(api.Instr{Op: op, L: []int{1}}, 0)
+		cells, n, e := permute.Seq(api.Instr{Op: op, L: []int{1}}, 0)
 		if good := mine(op); good != (e == 0) || !good && (e != api.ErrArg || cells != nil || n != 0) {
 			t.Errorf("%x: %d cells, %d, %d", op, len(cells), n, e)
 		}
 	}
 	for _, op := range []int{math.MinInt, math.MaxInt, 1<<32 + 0xfd0f, 0xfd6e, 0xfd00, 0x6a} {
-		if _, _, e := Seq(api.Instr{Op: op}, 0); Is(op) || e != api.ErrArg {
+		if _, _, e := permute.Seq(api.Instr{Op: op}, 0); permute.Is(op) || e != api.ErrArg {
 			t.Errorf("%x", op)
 		}
 	}
 	for base, want := range map[int]api.Errno{0: 0, 1: 0, 4032: 0, -1: api.ErrArg, 4033: api.ErrArg, math.MinInt: api.ErrArg, math.MaxInt: api.ErrArg} {
-		cells, n, e := Seq(api.Instr{Op: 0xfd0e}, base)
+		cells, n, e := permute.Seq(api.Instr{Op: 0xfd0e}, base)
 		if e != want || e != 0 && (cells != nil || n != 0) {
 			t.Error(base, e)
 		}
@@ -72,7 +73,7 @@ func TestFields(t *testing.T) {
 			if n != 0 && (a < 0 || a >= n) {
 				want = api.ErrArg
 			}
-			if _, _, e := Seq(api.Instr{Op: op, A: a, B: -5, L: []int{9}}, 0); e != want {
+			if _, _, e := permute.Seq(api.Instr{Op: op, A: a, B: -5, L: []int{9}}, 0); e != want {
 				t.Errorf("%x %d: %d", op, a, e)
 			}
 		}
@@ -86,7 +87,7 @@ func TestFields(t *testing.T) {
 				if op == 0xfd0d && k > 31 {
 					want = api.ErrArg
 				}
-				if _, _, e := Seq(in, 0); e != want {
+				if _, _, e := permute.Seq(in, 0); e != want {
 					t.Errorf("%x %x %x: %d", op, in.Lo, in.Hi, e)
 				}
 			}
@@ -171,7 +172,7 @@ func TestSequences(t *testing.T) {
 		ins := instrs(op)
 		for i, base := range []int{0, 5, 300, 4032} {
 			for j, in := range ins {
-				cells, n, e := Seq(in, base)
+				cells, n, e := permute.Seq(in, base)
 				if e != 0 {
 					t.Fatalf("%x: %d", op, e)
 				}
@@ -198,7 +199,7 @@ func TestSequences(t *testing.T) {
 // P23.2: swizzle by every number.
 func TestSwizzle(t *testing.T) {
 	s, _ := store.New(api.Module{Start: -1})
-	cells, n, _ := Seq(api.Instr{Op: 0xfd0e}, 0)
+	cells, n, _ := permute.Seq(api.Instr{Op: 0xfd0e}, 0)
 	for k := range uint64(256) {
 		row := []uint64{0x8877665544332211, 0xffeeddccbbaa9900, k * 0x0101010101010101, 0x0706050403020100 + k<<56}
 		want, _ := vector.Do(api.Instr{Op: 0xfd0e}, row...)
@@ -212,7 +213,7 @@ func TestSwizzle(t *testing.T) {
 func TestNarrow(t *testing.T) {
 	s, _ := store.New(api.Module{Start: -1})
 	for _, op := range []int{0xfd65, 0xfd66} {
-		cells, n, _ := Seq(api.Instr{Op: op}, 0)
+		cells, n, _ := permute.Seq(api.Instr{Op: op}, 0)
 		for k := uint64(0); k < 1<<16; k += 16 {
 			pack := func(x uint64) uint64 { return x | (x+1)<<16 | (x+2)<<32 | (x+3)<<48 }
 			row := []uint64{pack(k), pack(k + 4), pack(k + 8), pack(k + 12)}
@@ -227,13 +228,13 @@ func TestNarrow(t *testing.T) {
 // P23.3
 func TestMemory(t *testing.T) {
 	in := api.Instr{Op: 0xfd15, A: 5, L: []int{7}}
-	one, n, _ := Seq(in, 9)
-	two, k, _ := Seq(in, 9)
+	one, n, _ := permute.Seq(in, 9)
+	two, k, _ := permute.Seq(in, 9)
 	if n != k || !slices.Equal(one, two) || in.L[0] != 7 {
 		t.Error("the answer hangs on more than the instruction and the base")
 	}
 	one[0].Op = -1
-	if three, _, _ := Seq(in, 9); two[0].Op == -1 || three[0].Op == -1 {
+	if three, _, _ := permute.Seq(in, 9); two[0].Op == -1 || three[0].Op == -1 {
 		t.Error("memory is shared")
 	}
 }
@@ -248,14 +249,14 @@ func TestExamples(t *testing.T) {
 		{api.Instr{Op: 0xfd0c, Lo: 3, Hi: 4}, nil, []uint64{3, 4}}, {api.Instr{Op: 0xfd0f}, []uint64{1<<31 + 5}, []uint64{0x0505050505050505, 0x0505050505050505}}, {api.Instr{Op: 0xfd1d, A: 1}, []uint64{7, 9}, []uint64{9}},
 		{api.Instr{Op: 0xfd85}, []uint64{70000 * (1<<32 + 1), 70000 * (1<<32 + 1), 0, 0}, []uint64{0x7fff7fff7fff7fff, 0}},
 	} {
-		cells, n, _ := Seq(r.in, 0)
+		cells, n, _ := permute.Seq(r.in, 0)
 		got, e, kept := trial.Sequence{Cells: cells, Used: n, Operands: r.row, Results: len(r.want)}.Run(s)
 		if e != 0 || !kept || !slices.Equal(got, r.want) {
 			t.Errorf("%v: %x", r.in, got)
 		}
 	}
 	for _, in := range []api.Instr{{Op: 0xfd6e}, {Op: 0xfd00}, {Op: 0xfd15, A: 16}, {Op: 0xfd0d, Lo: 32}} {
-		if cells, n, e := Seq(in, 0); cells != nil || n != 0 || e != api.ErrArg {
+		if cells, n, e := permute.Seq(in, 0); cells != nil || n != 0 || e != api.ErrArg {
 			t.Error(in, e)
 		}
 	}

@@ -1,4 +1,4 @@
-package store
+package store_test
 
 import (
 	"bytes"
@@ -7,6 +7,7 @@ import (
 	"testing"
 
 	"plait/api"
+	"plait/store"
 )
 
 var end = api.Instr{Op: 0x0b}
@@ -36,23 +37,23 @@ func full() api.Module {
 	return m
 }
 
-func made(t *testing.T, m api.Module) *Store {
+func made(t *testing.T, m api.Module) *store.Store {
 	t.Helper()
-	s, e := New(m)
+	s, e := store.New(m)
 	if e != 0 || s == nil {
 		t.Fatal(e)
 	}
 	return s
 }
 
-func slot(t *testing.T, s *Store, k int, want uint64, there bool) {
+func slot(t *testing.T, s *store.Store, k int, want uint64, there bool) {
 	t.Helper()
 	if x, ok := s.Slot(k); x != want || ok != there {
 		t.Errorf("Slot(%d): %d, %v", k, x, ok)
 	}
 }
 
-func elem(t *testing.T, s *Store, i uint32, want int, there bool) {
+func elem(t *testing.T, s *store.Store, i uint32, want int, there bool) {
 	t.Helper()
 	if f, ok := s.Elem(i); f != want || ok != there {
 		t.Errorf("Elem(%d): %d, %v", i, f, ok)
@@ -99,7 +100,7 @@ func TestSegments(t *testing.T) {
 	for i, r := range rows {
 		m := full()
 		m.Elems, m.Datas = r.elems, r.datas
-		if s, e := New(m); e != r.e || (s == nil) != (e != 0) {
+		if s, e := store.New(m); e != r.e || (s == nil) != (e != 0) {
 			t.Error(i, s != nil, e, r.e)
 		}
 	}
@@ -110,15 +111,15 @@ func TestChecked(t *testing.T) {
 	m := full()
 	m.Elems[0].Offset = at(9)
 	m.Codes[0].Body = []api.Instr{{Op: 0x41}, end}
-	if s, e := New(m); s != nil || e != api.ErrValid {
+	if s, e := store.New(m); s != nil || e != api.ErrValid {
 		t.Error(e)
 	}
 	m.Datas[0].Bytes = make([]byte, 20000)
-	if s, e := New(m); s != nil || e != api.ErrLong {
+	if s, e := store.New(m); s != nil || e != api.ErrLong {
 		t.Error(e)
 	}
 	m.Start = -2
-	if s, e := New(m); s != nil || e != api.ErrArg {
+	if s, e := store.New(m); s != nil || e != api.ErrArg {
 		t.Error(e)
 	}
 }
@@ -202,7 +203,7 @@ func TestClone(t *testing.T) {
 
 // P17.4: a nil store.
 func TestNil(t *testing.T) {
-	var s *Store
+	var s *store.Store
 	if s.Clone() != nil || s.Memory() != nil || !reflect.DeepEqual(s.Module(), api.Module{}) || s.SetSlot(0, 1) {
 		t.Error("nil")
 	}

@@ -1,4 +1,4 @@
-package swar
+package swar_test
 
 import (
 	"math"
@@ -9,6 +9,7 @@ import (
 	"plait/arith"
 	"plait/instr"
 	"plait/store"
+	"plait/swar"
 	"plait/trial"
 	"plait/vector"
 )
@@ -31,21 +32,21 @@ func mine(op int) bool {
 // P22.1
 func TestIs(t *testing.T) {
 	for op := -0x200; op < 0x10200; op++ {
-		if Is(op) != mine(op) {
+		if swar.Is(op) != mine(op) {
 			t.Errorf("%x", op)
 		}
-		cells, n, e := Seq(api.Instr{Op: op, A: 3, B: -1, Lo: 1 << 60, Hi: 7, L: []int{1}}, 0)
+		cells, n, e := swar.Seq(api.Instr{Op: op, A: 3, B: -1, Lo: 1 << 60, Hi: 7, L: []int{1}}, 0)
 		if good := mine(op); good != (e == 0) || !good && (e != api.ErrArg || cells != nil || n != 0) {
 			t.Errorf("%x: %d cells, %d, %d", op, len(cells), n, e)
 		}
 	}
 	for _, op := range []int{math.MinInt, math.MaxInt, 1<<32 + 0xfd6e, 0xfd0d, 0x6a} {
-		if _, _, e := Seq(api.Instr{Op: op}, 0); Is(op) || e != api.ErrArg {
+		if _, _, e := swar.Seq(api.Instr{Op: op}, 0); swar.Is(op) || e != api.ErrArg {
 			t.Errorf("%x", op)
 		}
 	}
 	for base, want := range map[int]api.Errno{0: 0, 1: 0, 4032: 0, -1: api.ErrArg, 4033: api.ErrArg, math.MinInt: api.ErrArg, math.MaxInt: api.ErrArg} {
-		cells, n, e := Seq(api.Instr{Op: 0xfd6e}, base)
+		cells, n, e := swar.Seq(api.Instr{Op: 0xfd6e}, base)
 		if e != want || e != 0 && (cells != nil || n != 0) {
 			t.Error(base, e)
 		}
@@ -99,7 +100,7 @@ func TestSequences(t *testing.T) {
 		}
 		info, _ := instr.Of(op)
 		for i, base := range []int{0, 5, 300, 4032} {
-			cells, n, e := Seq(api.Instr{Op: op}, base)
+			cells, n, e := swar.Seq(api.Instr{Op: op}, base)
 			if e != 0 {
 				t.Fatalf("%x: %d", op, e)
 			}
@@ -126,7 +127,7 @@ func TestSequences(t *testing.T) {
 func TestBytes(t *testing.T) {
 	s, _ := store.New(api.Module{Start: -1})
 	for _, op := range []int{0xfd6e, 0xfd6f, 0xfd70, 0xfd71, 0xfd72, 0xfd73, 0xfd76, 0xfd77, 0xfd78, 0xfd79, 0xfd7b, 0xfd23, 0xfd24, 0xfd25, 0xfd26, 0xfd27, 0xfd28, 0xfd29, 0xfd2a, 0xfd2b, 0xfd2c} {
-		cells, n, _ := Seq(api.Instr{Op: op}, 0)
+		cells, n, _ := swar.Seq(api.Instr{Op: op}, 0)
 		q := trial.Sequence{Cells: cells, Used: n, Results: 2}
 		const ones = 0x0101010101010101
 		for x := range uint64(16) {
@@ -147,7 +148,7 @@ func TestBytes(t *testing.T) {
 func TestLengths(t *testing.T) {
 	for _, op := range []int{0xfd6e, 0xfd71, 0xfd61, 0xfd23, 0xfd24, 0xfd6b, 0xfd6d, 0xfd7b, 0xfd62} {
 		for _, base := range []int{0, 4032} {
-			if cells, _, e := Seq(api.Instr{Op: op}, base); e != 0 || len(cells) > api.MaxSwarCells {
+			if cells, _, e := swar.Seq(api.Instr{Op: op}, base); e != 0 || len(cells) > api.MaxSwarCells {
 				t.Errorf("%x: %d cells", op, len(cells))
 			}
 		}
@@ -157,13 +158,13 @@ func TestLengths(t *testing.T) {
 // P22.4
 func TestMemory(t *testing.T) {
 	in := api.Instr{Op: 0xfd6e, A: 5, Lo: 6, L: []int{7}}
-	one, n, _ := Seq(in, 9)
-	two, k, _ := Seq(api.Instr{Op: 0xfd6e}, 9)
+	one, n, _ := swar.Seq(in, 9)
+	two, k, _ := swar.Seq(api.Instr{Op: 0xfd6e}, 9)
 	if n != k || !slices.Equal(one, two) || in.L[0] != 7 {
 		t.Error("the answer hangs on more than the opcode and the base")
 	}
 	one[0].Op = -1
-	if three, _, _ := Seq(in, 9); two[0].Op == -1 || three[0].Op == -1 {
+	if three, _, _ := swar.Seq(in, 9); two[0].Op == -1 || three[0].Op == -1 {
 		t.Error("memory is shared")
 	}
 }
@@ -177,7 +178,7 @@ func TestExamples(t *testing.T) {
 	}{
 		{0xfdce, []uint64{3, 4, 5, 6}, []uint64{8, 10}}, {0xfd23, []uint64{5, 0, 5, 1}, []uint64{0xffffffffffffffff, 0xffffffffffffff00}}, {0xfd53, []uint64{0, 0}, []uint64{0}},
 	} {
-		cells, n, _ := Seq(api.Instr{Op: r.op}, 0)
+		cells, n, _ := swar.Seq(api.Instr{Op: r.op}, 0)
 		got, e, kept := trial.Sequence{Cells: cells, Used: n, Operands: r.row, Results: len(r.want)}.Run(s)
 		if e != 0 || !kept || !slices.Equal(got, r.want) {
 			t.Errorf("%x: %x", r.op, got)

@@ -1,4 +1,4 @@
-package target
+package target_test
 
 import (
 	"math"
@@ -8,6 +8,7 @@ import (
 
 	"plait/api"
 	"plait/num"
+	"plait/target"
 )
 
 const i32, i64 = api.I32, api.I64
@@ -15,7 +16,7 @@ const i32, i64 = api.I32, api.I64
 func cell(op int) api.Cell            { return api.Cell{Op: op} }
 func cellA(op, a int) api.Cell        { return api.Cell{Op: op, A: a} }
 func cellN(op int, n uint64) api.Cell { return api.Cell{Op: op, N: n} }
-func slide(n int, k uint64) api.Cell  { return api.Cell{Op: Slide, A: n, N: k} }
+func slide(n int, k uint64) api.Cell  { return api.Cell{Op: target.Slide, A: n, N: k} }
 func konst(n uint64) api.Cell         { return api.Cell{Op: 0x42, N: n} }
 func types(n int) []int               { return slices.Repeat([]int{i64}, n) }
 func sig(in, out int) api.Sig         { return api.Sig{In: types(in), Out: types(out)} }
@@ -39,16 +40,16 @@ var flat = []int{0x00, 0x0c, 0x0d, 0x0e, 0x0f, 0x10, 0x11, 0x1a, 0x1b, 0x20, 0x2
 
 // P19.1
 func TestScalar(t *testing.T) {
-	if Slide != 0x100 || Tick != 0x101 {
-		t.Error(Slide, Tick)
+	if target.Slide != 0x100 || target.Tick != 0x101 {
+		t.Error(target.Slide, target.Tick)
 	}
 	for op := -300; op < 0x10100; op++ {
-		if want := slices.Contains(flat, op) || num.Arity(op) > 0; Scalar(op) != want {
+		if want := slices.Contains(flat, op) || num.Arity(op) > 0; target.Scalar(op) != want {
 			t.Errorf("%x", op)
 		}
 	}
 	for _, op := range []int{0x41, 0x02, 0xfd00, 0x2a, math.MinInt, math.MaxInt} {
-		if Scalar(op) {
+		if target.Scalar(op) {
 			t.Errorf("%x", op)
 		}
 	}
@@ -56,7 +57,7 @@ func TestScalar(t *testing.T) {
 
 func check(t *testing.T, what any, p api.Prog, want api.Errno) {
 	t.Helper()
-	if e := Check(p); e != want {
+	if e := target.Check(p); e != want {
 		t.Errorf("%v: %d, want %d", what, e, want)
 	}
 }
@@ -65,7 +66,7 @@ func check(t *testing.T, what any, p api.Prog, want api.Errno) {
 func TestCells(t *testing.T) {
 	good := [][]api.Cell{
 		{ret}, {cell(0)}, {cellA(0x0c, 0)}, {cellA(0x0c, 1), ret}, {cellA(0x0d, 1), ret}, {cellA(0x0e, 0), ret}, {cellA(0x0e, 1), ret, ret}, {cellA(0x10, 0)}, {cellA(0x10, 2)}, {cellA(0x11, 2)},
-		{cellA(0x20, 1)}, {cellA(0x21, 0)}, {cellA(0x22, 1)}, {cellA(0x23, 0)}, {cellA(0x24, math.MaxInt)}, {slide(0, 0)}, {slide(1<<20, 1<<20)}, {{Op: 0x42, A: -7, N: 1 << 63}}, {{Op: 0x6a, A: -1, N: 5}}, {{Op: 0x29, A: 9, N: math.MaxUint64}}, {{Op: Tick, A: -1}}, {{Op: 0x0f, A: 99}},
+		{cellA(0x20, 1)}, {cellA(0x21, 0)}, {cellA(0x22, 1)}, {cellA(0x23, 0)}, {cellA(0x24, math.MaxInt)}, {slide(0, 0)}, {slide(1<<20, 1<<20)}, {{Op: 0x42, A: -7, N: 1 << 63}}, {{Op: 0x6a, A: -1, N: 5}}, {{Op: 0x29, A: 9, N: math.MaxUint64}}, {{Op: target.Tick, A: -1}}, {{Op: 0x0f, A: 99}},
 	}
 	bad := [][]api.Cell{
 		{}, {cellA(0x0c, 1)}, {cellA(0x0c, -1)}, {cellA(0x0d, 1)}, {cellA(0x0d, math.MinInt)}, {cellA(0x0e, 0)}, {cellA(0x0e, 1), ret}, {cellA(0x0e, -1), ret}, {ret, cellA(0x0e, 1), ret}, {cellA(0x0e, math.MaxInt), ret},
@@ -101,10 +102,10 @@ func TestFunctions(t *testing.T) {
 		p := prog(ret)
 		change(&p)
 		check(t, what, p, api.ErrArg)
-		if takes, gives := Effect(p, 0, konst(1)); takes != 0 || gives != 0 {
+		if takes, gives := target.Effect(p, 0, konst(1)); takes != 0 || gives != 0 {
 			t.Error(what, takes, gives)
 		}
-		if hs, ok := Heights(p, 0); hs != nil || ok {
+		if hs, ok := target.Heights(p, 0); hs != nil || ok {
 			t.Error(what, hs, ok)
 		}
 	}
@@ -122,7 +123,7 @@ func TestEffect(t *testing.T) {
 	}
 	p := prog(konst(1), ret)
 	for op := -20; op < 0x10000; op++ {
-		if op == 0x0f || op == 0x10 || op == 0x11 || op == Slide {
+		if op == 0x0f || op == 0x10 || op == 0x11 || op == target.Slide {
 			continue
 		}
 		w := want[op]
@@ -130,7 +131,7 @@ func TestEffect(t *testing.T) {
 			w = [2]int{n, 1}
 		}
 		for _, a := range []int{0, -1, 99} {
-			if takes, gives := Effect(p, 0, cellA(op, a)); takes != w[0] || gives != w[1] {
+			if takes, gives := target.Effect(p, 0, cellA(op, a)); takes != w[0] || gives != w[1] {
 				t.Errorf("%x: %d %d, want %v", op, takes, gives, w)
 			}
 		}
@@ -144,7 +145,7 @@ func TestEffect(t *testing.T) {
 		{0, slide(2, 3), [2]int{5, 2}}, {0, slide(0, 0), [2]int{}}, {0, slide(1<<20, 1<<20), [2]int{1 << 21, 1 << 20}}, {3, konst(1), [2]int{}}, {-1, konst(1), [2]int{}}, {math.MaxInt, konst(1), [2]int{}}, {math.MinInt, konst(1), [2]int{}}, {0, cell(0xfd6e), [2]int{}},
 	}
 	for _, r := range rows {
-		if takes, gives := Effect(p, r.f, r.c); takes != r.want[0] || gives != r.want[1] {
+		if takes, gives := target.Effect(p, r.f, r.c); takes != r.want[0] || gives != r.want[1] {
 			t.Errorf("%d %v: %d %d, want %v", r.f, r.c, takes, gives, r.want)
 		}
 	}
@@ -161,26 +162,26 @@ func TestHeights(t *testing.T) {
 		{[]api.Cell{five, cellA(0x0e, 1), cellA(0x0c, 4), cellA(0x0c, 5), cellA(0x0c, 5), five, ret}, []int{0, 1, 0, 0, 0, 0, 1}}, {[]api.Cell{five, cellA(0x0e, 0), cell(0), five, ret}, []int{0, 1, 0, -1, -1}}, {[]api.Cell{five, cellA(0x0e, 1), cell(0), five, ret}, []int{0, 1, 0, 0, 1}}, {[]api.Cell{five, cellA(0x0e, 1), five, ret}, nil},
 		{[]api.Cell{cell(0)}, []int{0}}, {[]api.Cell{cell(0), drop, drop}, []int{0, -1, -1}}, {[]api.Cell{ret}, nil}, {[]api.Cell{five, five, ret}, []int{0, 1, 2}}, {[]api.Cell{cellA(0x0c, 0)}, []int{0}}, {[]api.Cell{five, cellA(0x0d, 0)}, nil}, {[]api.Cell{five, five, cellA(0x0d, 0), cell(0)}, nil}, {[]api.Cell{five, five, cellA(0x0d, 1), ret}, []int{0, 1, 2, 1}}, {[]api.Cell{five, five, five, cellA(0x0d, 2), ret}, []int{0, 1, 2, 3, 2}},
 		{[]api.Cell{five, five, five, cellA(0x10, 1), ret}, []int{0, 1, 2, 3, 2}}, {[]api.Cell{five, five, cellA(0x10, 1), ret}, nil}, {[]api.Cell{five, five, five, five, cellA(0x11, 1), ret}, []int{0, 1, 2, 3, 4, 2}}, {[]api.Cell{five, five, five, cellA(0x11, 1), ret}, nil},
-		{[]api.Cell{five, five, five, slide(1, 2), ret}, []int{0, 1, 2, 3, 1}}, {[]api.Cell{five, five, slide(1, 2), ret}, nil}, {[]api.Cell{five, slide(0, 1), five, ret}, []int{0, 1, 0, 1}}, {[]api.Cell{cell(Tick), five, cell(0x6a), ret}, nil}, {[]api.Cell{five, five, cell(0x6a), cell(0x45), ret}, []int{0, 1, 2, 1, 1}}, {[]api.Cell{five, five, cell(0x36), five, cell(0x29), cellA(0x22, 0), cellA(0x21, 1), cellA(0x20, 1), ret}, []int{0, 1, 2, 0, 1, 1, 1, 0, 1}},
+		{[]api.Cell{five, five, five, slide(1, 2), ret}, []int{0, 1, 2, 3, 1}}, {[]api.Cell{five, five, slide(1, 2), ret}, nil}, {[]api.Cell{five, slide(0, 1), five, ret}, []int{0, 1, 0, 1}}, {[]api.Cell{cell(target.Tick), five, cell(0x6a), ret}, nil}, {[]api.Cell{five, five, cell(0x6a), cell(0x45), ret}, []int{0, 1, 2, 1, 1}}, {[]api.Cell{five, five, cell(0x36), five, cell(0x29), cellA(0x22, 0), cellA(0x21, 1), cellA(0x20, 1), ret}, []int{0, 1, 2, 0, 1, 1, 1, 0, 1}},
 		{[]api.Cell{five, cellA(0x0d, 3), cellA(0x0c, 4), five, cellA(0x0c, 2)}, nil}, {[]api.Cell{five, cellA(0x0d, 4), five, cellA(0x0c, 5), konst(1), ret}, []int{0, 1, 0, 1, 0, 1}},
 	}
 	for i, r := range rows {
-		hs, ok := Heights(prog(r.cells...), 0)
+		hs, ok := target.Heights(prog(r.cells...), 0)
 		if ok != (r.want != nil) || !slices.Equal(hs, r.want) {
 			t.Errorf("%d: %v, %v, want %v", i, hs, ok, r.want)
 		}
 	}
 	p := prog(five, ret)
 	for _, f := range []int{-1, 1, 3, math.MinInt, math.MaxInt} {
-		if hs, ok := Heights(p, f); hs != nil || ok {
+		if hs, ok := target.Heights(p, f); hs != nil || ok {
 			t.Error(f, hs, ok)
 		}
 	}
-	if hs, ok := Heights(p, 2); !slices.Equal(hs, []int{0}) || !ok {
+	if hs, ok := target.Heights(p, 2); !slices.Equal(hs, []int{0}) || !ok {
 		t.Error(hs, ok)
 	}
 	p.Funcs[2].Cells = []api.Cell{cellA(0x20, 5)}
-	if hs, ok := Heights(p, 0); hs != nil || ok {
+	if hs, ok := target.Heights(p, 0); hs != nil || ok {
 		t.Error(hs, ok)
 	}
 }
@@ -188,9 +189,9 @@ func TestHeights(t *testing.T) {
 // P19.5
 func TestMemory(t *testing.T) {
 	p := prog(konst(5), ret)
-	Check(p)
-	one, _ := Heights(p, 0)
-	two, _ := Heights(p, 0)
+	target.Check(p)
+	one, _ := target.Heights(p, 0)
+	two, _ := target.Heights(p, 0)
 	one[1] = 9
 	if two[1] != 1 || !reflect.DeepEqual(p, prog(konst(5), ret)) {
 		t.Error("memory is shared")

@@ -1,4 +1,4 @@
-package valid
+package valid_test
 
 import (
 	"math"
@@ -8,6 +8,7 @@ import (
 
 	"plait/api"
 	"plait/instr"
+	"plait/valid"
 )
 
 type code = []api.Instr
@@ -51,7 +52,7 @@ func with(in, out, locals []int, body ...api.Instr) api.Module {
 
 func check(t *testing.T, what any, m api.Module, want api.Errno) {
 	t.Helper()
-	if e := Check(m); e != want {
+	if e := valid.Check(m); e != want {
 		t.Errorf("%v: %d, want %d", what, e, want)
 	}
 }
@@ -118,10 +119,10 @@ func TestBodies(t *testing.T) {
 		}
 		m := with(r.in, r.out, r.locals, r.body...)
 		check(t, i, m, want)
-		if marks, e := Marks(m, 0); e != want || r.ok && len(marks) != len(r.body)+1 || !r.ok && marks != nil {
+		if marks, e := valid.Marks(m, 0); e != want || r.ok && len(marks) != len(r.body)+1 || !r.ok && marks != nil {
 			t.Error(i, marks, e)
 		}
-		if _, e := Marks(m, 1); e != want {
+		if _, e := valid.Marks(m, 1); e != want {
 			t.Error(i, e)
 		}
 	}
@@ -211,18 +212,18 @@ func TestSig(t *testing.T) {
 	m.Codes, m.Start = nil, -77 // not looked at
 	want := map[int]api.Sig{0: {In: []int{i32}, Out: []int{i64}}, 3: {In: []int{v128}, Out: []int{i32, i64}}, 7: {}}
 	for _, f := range []int{math.MinInt, -1, 0, 1, 2, 3, 4, 5, 6, 7, 8, 9, math.MaxInt} {
-		s, ok := Sig(m, f)
+		s, ok := valid.Sig(m, f)
 		w, there := want[f]
 		if ok != there || !slices.Equal(s.In, w.In) || !slices.Equal(s.Out, w.Out) {
 			t.Error(f, s, ok)
 		}
 	}
-	s, _ := Sig(m, 3)
+	s, _ := valid.Sig(m, 3)
 	s.In[0], s.Out[0] = 1, 2
 	if m.Types[0].In[0] != v128 || m.Types[0].Out[0] != i32 {
 		t.Error("Sig shares memory")
 	}
-	if _, ok := Sig(api.Module{}, 0); ok {
+	if _, ok := valid.Sig(api.Module{}, 0); ok {
 		t.Error("of no module")
 	}
 }
@@ -255,7 +256,7 @@ func TestMarks(t *testing.T) {
 	for i, r := range rows {
 		m := with(nil, r.out, nil, r.body...)
 		m.Types[0].Out = r.out
-		marks, e := Marks(m, 0)
+		marks, e := valid.Marks(m, 0)
 		if e != 0 || !slices.Equal(marks, r.want) {
 			t.Errorf("%d: %v %d, want %v", i, marks, e, r.want)
 		}
@@ -266,27 +267,27 @@ func TestMarks(t *testing.T) {
 func TestMarksErrors(t *testing.T) {
 	m := with(nil, nil, nil)
 	for _, f := range []int{math.MinInt, -1, 2, 3, math.MaxInt} {
-		if marks, e := Marks(m, f); marks != nil || e != api.ErrArg {
+		if marks, e := valid.Marks(m, f); marks != nil || e != api.ErrArg {
 			t.Error(f, marks, e)
 		}
 	}
-	if marks, e := Marks(m, 1); len(marks) != 2 || e != 0 {
+	if marks, e := valid.Marks(m, 1); len(marks) != 2 || e != 0 {
 		t.Error(marks, e)
 	}
 	m.Codes[0].Body = code{c32, end}
 	for f, want := range map[int]api.Errno{0: api.ErrValid, 1: api.ErrValid, 2: api.ErrArg, -1: api.ErrArg} {
-		if marks, e := Marks(m, f); marks != nil || e != want {
+		if marks, e := valid.Marks(m, f); marks != nil || e != want {
 			t.Error(f, marks, e)
 		}
 	}
 	m.Datas = []api.Data{{Offset: code{c32, end}, Bytes: make([]byte, 20000)}}
 	for f, want := range map[int]api.Errno{0: api.ErrLong, 2: api.ErrArg} {
-		if marks, e := Marks(m, f); marks != nil || e != want {
+		if marks, e := valid.Marks(m, f); marks != nil || e != want {
 			t.Error(f, marks, e)
 		}
 	}
 	m.Start = -2
-	if marks, e := Marks(m, 0); marks != nil || e != api.ErrArg {
+	if marks, e := valid.Marks(m, 0); marks != nil || e != api.ErrArg {
 		t.Error(marks, e)
 	}
 }
@@ -299,9 +300,9 @@ func TestMemory(t *testing.T) {
 		return m
 	}
 	m := make1()
-	Check(m)
-	one, _ := Marks(m, 0)
-	two, _ := Marks(m, 0)
+	valid.Check(m)
+	one, _ := valid.Marks(m, 0)
+	two, _ := valid.Marks(m, 0)
 	one[0].Height = 9
 	if two[0].Height != 0 || !reflect.DeepEqual(m, make1()) {
 		t.Error("memory is shared, or what was handed in has changed")

@@ -1,4 +1,4 @@
-package vector
+package vector_test
 
 import (
 	"math"
@@ -11,6 +11,7 @@ import (
 	"plait/instr"
 	"plait/move"
 	"plait/pair"
+	"plait/vector"
 	"plait/widen"
 )
 
@@ -29,12 +30,12 @@ func TestIs(t *testing.T) {
 	for _, op := range opcodes() {
 		info, ok := instr.Of(op)
 		want := ok && op >= 0xfd00 && info.Form != api.FormMem && info.Form != api.FormMemLane
-		if Is(op) != want {
+		if vector.Is(op) != want {
 			t.Errorf("%x", op)
 		}
 	}
 	for _, op := range []int{0xfd00, 0xfd0b, 0xfd54, 0xfd5b, 0xfd5d, 0x6a, 0xfd13} {
-		if Is(op) {
+		if vector.Is(op) {
 			t.Errorf("%x", op)
 		}
 	}
@@ -112,7 +113,7 @@ func operands(types []int, x uint64, vs ...api.Vec) []uint64 {
 func TestDo(t *testing.T) {
 	vs := samples()
 	for op := 0xfd00; op < 0xfe00; op++ {
-		if !Is(op) {
+		if !vector.Is(op) {
 			continue
 		}
 		info, _ := instr.Of(op)
@@ -124,7 +125,7 @@ func TestDo(t *testing.T) {
 				if info.Form == api.FormNone {
 					lane, h.Lo, h.Hi = i, uint64(j), 99 // passed over
 				}
-				got, e := Do(api.Instr{Op: op, A: lane, B: i, Lo: h.Lo, Hi: h.Hi, L: []int{1}}, operands(info.In, x, a, b, c)...)
+				got, e := vector.Do(api.Instr{Op: op, A: lane, B: i, Lo: h.Lo, Hi: h.Hi, L: []int{1}}, operands(info.In, x, a, b, c)...)
 				v, we := byLayers(op, lane, sel, a, b, c, x)
 				var want []uint64
 				if we == 0 {
@@ -144,21 +145,21 @@ func TestErrors(t *testing.T) {
 		info, _ := instr.Of(op)
 		need := len(operands(info.In, 1, make([]api.Vec, 3)...))
 		for n := range 8 {
-			hs, e := Do(api.Instr{Op: op}, make([]uint64, n)...)
-			if good := Is(op) && n == need; good != (e == 0) || !good && (e != api.ErrArg || hs != nil) {
+			hs, e := vector.Do(api.Instr{Op: op}, make([]uint64, n)...)
+			if good := vector.Is(op) && n == need; good != (e == 0) || !good && (e != api.ErrArg || hs != nil) {
 				t.Fatalf("%x of %d: %x, %d", op, n, hs, e)
 			}
 		}
 	}
 	for _, lane := range []int{math.MinInt, -1, 8, 9, 16, math.MaxInt} {
-		if hs, e := Do(api.Instr{Op: 0xfd18, A: lane}, 1, 2); hs != nil || e != api.ErrArg {
+		if hs, e := vector.Do(api.Instr{Op: 0xfd18, A: lane}, 1, 2); hs != nil || e != api.ErrArg {
 			t.Error(lane, hs, e)
 		}
-		if hs, e := Do(api.Instr{Op: 0xfd1a, A: lane}, 1, 2, 3); hs != nil || e != api.ErrArg {
+		if hs, e := vector.Do(api.Instr{Op: 0xfd1a, A: lane}, 1, 2, 3); hs != nil || e != api.ErrArg {
 			t.Error(lane, hs, e)
 		}
 	}
-	if hs, e := Do(api.Instr{Op: 0xfd0d, Hi: 32}, 1, 2, 3, 4); hs != nil || e != api.ErrArg {
+	if hs, e := vector.Do(api.Instr{Op: 0xfd0d, Hi: 32}, 1, 2, 3, 4); hs != nil || e != api.ErrArg {
 		t.Error(hs, e)
 	}
 }
@@ -178,7 +179,7 @@ func TestExamples(t *testing.T) {
 		{api.Instr{Op: 0xfd6b}, []uint64{both, both, 1<<32 + 9}, []uint64{2 * both, 2 * both}},
 	}
 	for _, r := range rows {
-		if hs, e := Do(r.in, r.hs...); !slices.Equal(hs, r.want) || e != 0 {
+		if hs, e := vector.Do(r.in, r.hs...); !slices.Equal(hs, r.want) || e != 0 {
 			t.Errorf("%x: %x %d", r.in.Op, hs, e)
 		}
 	}
@@ -190,8 +191,8 @@ func TestMemory(t *testing.T) {
 	for _, n := range []int{0, 2, 4, 6} {
 		in := api.Instr{Op: map[int]int{0: 0xfd0c, 2: 0xfd4d, 4: 0xfd51, 6: 0xfd52}[n]}
 		part := hs[:n]
-		one, _ := Do(in, part...)
-		two, _ := Do(in, part...)
+		one, _ := vector.Do(in, part...)
+		two, _ := vector.Do(in, part...)
 		one[0] = 77
 		one = append(one[:0], 78, 79)
 		if two[0] == 77 || two[0] == 78 || !slices.Equal(hs, []uint64{1, 2, 3, 4, 5, 6}) {

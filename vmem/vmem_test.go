@@ -1,4 +1,4 @@
-package vmem
+package vmem_test
 
 import (
 	"bytes"
@@ -8,6 +8,7 @@ import (
 	"plait/api"
 	"plait/memory"
 	"plait/pair"
+	"plait/vmem"
 )
 
 const page = api.PageBytes
@@ -55,8 +56,8 @@ func image(m *memory.Memory) []byte {
 // P11.1
 func TestSize(t *testing.T) {
 	for _, op := range opcodes() {
-		if Size(op) != sizes[op] {
-			t.Errorf("%x: %d", op, Size(op))
+		if vmem.Size(op) != sizes[op] {
+			t.Errorf("%x: %d", op, vmem.Size(op))
 		}
 	}
 }
@@ -102,7 +103,7 @@ func TestLoad(t *testing.T) {
 				b, _ := m.Peek(at, n)
 				for _, offset := range []int{0, at / 2, at} {
 					in.B = offset
-					v, e := Load(m, in, uint32(at-offset), old)
+					v, e := vmem.Load(m, in, uint32(at-offset), old)
 					if w := want(op, b, lane, old); v != w || e != 0 {
 						t.Errorf("%x %d at %d: %x %d, want %x", op, lane, at, v, e, w)
 					}
@@ -131,7 +132,7 @@ func TestStore(t *testing.T) {
 					copy(w[at:], v[lane*n:(lane+1)*n])
 				}
 				in.B = at / 3
-				if e := Store(m, in, uint32(at-at/3), v); e != 0 || !bytes.Equal(image(m), w) {
+				if e := vmem.Store(m, in, uint32(at-at/3), v); e != 0 || !bytes.Equal(image(m), w) {
 					t.Errorf("%x %d at %d: %d", op, lane, at, e)
 				}
 			}
@@ -161,12 +162,12 @@ func TestBounds(t *testing.T) {
 func access(t *testing.T, m *memory.Memory, in api.Instr, addr uint32, v api.Vec, want api.Errno) {
 	t.Helper()
 	if isStore(in.Op) {
-		if e := Store(m, in, addr, v); e != want {
+		if e := vmem.Store(m, in, addr, v); e != want {
 			t.Errorf("%x %d %d: %d, want %d", in.Op, in.B, addr, e, want)
 		}
 		return
 	}
-	if x, e := Load(m, in, addr, v); e != want || x != (api.Vec{}) {
+	if x, e := vmem.Load(m, in, addr, v); e != want || x != (api.Vec{}) {
 		t.Errorf("%x %d %d: %x %d, want %d", in.Op, in.B, addr, x, e, want)
 	}
 }
@@ -179,7 +180,7 @@ func TestErrors(t *testing.T) {
 	for _, op := range opcodes() {
 		for _, mem := range []*memory.Memory{m, nil} {
 			in := api.Instr{Op: op}
-			x, e := Load(mem, in, 1<<32-1, v)
+			x, e := vmem.Load(mem, in, 1<<32-1, v)
 			wrong := api.ErrArg
 			if sizes[op] != 0 && !isStore(op) {
 				wrong = map[bool]api.Errno{true: api.ErrNil, false: api.TrapBounds}[mem == nil]
@@ -191,7 +192,7 @@ func TestErrors(t *testing.T) {
 			if isStore(op) {
 				wrong = map[bool]api.Errno{true: api.ErrNil, false: api.TrapBounds}[mem == nil]
 			}
-			if e := Store(mem, in, 1<<32-1, v); e != wrong {
+			if e := vmem.Store(mem, in, 1<<32-1, v); e != wrong {
 				t.Errorf("Store %x: %d, want %d", op, e, wrong)
 			}
 		}
@@ -220,14 +221,14 @@ func TestExamples(t *testing.T) {
 	access(t, m, api.Instr{Op: 0xfd00}, 65521, api.Vec{}, api.TrapBounds)
 	access(t, m, api.Instr{Op: 0xfd5d}, 65529, api.Vec{}, api.TrapBounds)
 	m.Poke(0, []byte{0xff, 1})
-	if v, e := Load(m, api.Instr{Op: 0xfd01}, 0, api.Vec{}); pair.Get(v, 32, 0) != 0x0001ffff || e != 0 {
+	if v, e := vmem.Load(m, api.Instr{Op: 0xfd01}, 0, api.Vec{}); pair.Get(v, 32, 0) != 0x0001ffff || e != 0 {
 		t.Error(v, e)
 	}
 	m.Poke(8, []byte{0x34, 0x12})
-	if v, e := Load(m, api.Instr{Op: 0xfd08}, 8, api.Vec{}); v != pair.Of(64, 0x1234123412341234, 0x1234123412341234) || e != 0 {
+	if v, e := vmem.Load(m, api.Instr{Op: 0xfd08}, 8, api.Vec{}); v != pair.Of(64, 0x1234123412341234, 0x1234123412341234) || e != 0 {
 		t.Error(v, e)
 	}
-	if e := Store(m, api.Instr{Op: 0xfd5a, Lo: 3}, 100, pair.Of(32, 1, 2, 3, 0xa1b2c3d4)); e != 0 {
+	if e := vmem.Store(m, api.Instr{Op: 0xfd5a, Lo: 3}, 100, pair.Of(32, 1, 2, 3, 0xa1b2c3d4)); e != 0 {
 		t.Error(e)
 	}
 	if x, _ := m.Load(100, 4); x != 0xa1b2c3d4 {

@@ -1,4 +1,4 @@
-package widen
+package widen_test
 
 import (
 	"math"
@@ -7,6 +7,7 @@ import (
 
 	"plait/api"
 	"plait/pair"
+	"plait/widen"
 )
 
 type kind struct {
@@ -154,14 +155,14 @@ func TestUn(t *testing.T) {
 	for _, op := range opcodes() {
 		c, mine := all[op]
 		if !mine {
-			if v, e := Un(op, pair.Of(64, 1, 2)); v != (api.Vec{}) || e != api.ErrArg {
+			if v, e := widen.Un(op, pair.Of(64, 1, 2)); v != (api.Vec{}) || e != api.ErrArg {
 				t.Errorf("%x: %x %d", op, v, e)
 			}
 			continue
 		}
 		for _, a := range samples() {
 			want := oracle(c, a, a)
-			if v, e := Un(op, a); v != want || e != 0 {
+			if v, e := widen.Un(op, a); v != want || e != 0 {
 				t.Errorf("%x of %x: %x %d, want %x", op, a, v, e, want)
 			}
 		}
@@ -175,7 +176,7 @@ func TestBin(t *testing.T) {
 	for _, op := range opcodes() {
 		c, mine := all[op]
 		if !mine {
-			if v, e := Bin(op, pair.Of(64, 1, 2), pair.Of(64, 3, 4)); v != (api.Vec{}) || e != api.ErrArg {
+			if v, e := widen.Bin(op, pair.Of(64, 1, 2), pair.Of(64, 3, 4)); v != (api.Vec{}) || e != api.ErrArg {
 				t.Errorf("%x: %x %d", op, v, e)
 			}
 			continue
@@ -183,7 +184,7 @@ func TestBin(t *testing.T) {
 		for i, a := range vs {
 			for j := 0; j < len(vs); j += 1 + i%3 {
 				want := oracle(c, a, vs[j])
-				if v, e := Bin(op, a, vs[j]); v != want || e != 0 {
+				if v, e := widen.Bin(op, a, vs[j]); v != want || e != 0 {
 					t.Fatalf("%x of %x %x: %x %d, want %x", op, a, vs[j], v, e, want)
 				}
 			}
@@ -207,7 +208,7 @@ func TestExamples(t *testing.T) {
 		want uint64
 	}{{0xfd87, front, 65535}, {0xfd89, front, 255}, {0xfd7c, all(8, 255), 65534}, {0xfd7d, all(8, 255), 510}}
 	for _, r := range uns {
-		if v, e := Un(r.op, r.v); pair.Get(v, 16, 0) != r.want || e != 0 {
+		if v, e := widen.Un(r.op, r.v); pair.Get(v, 16, 0) != r.want || e != 0 {
 			t.Errorf("%x: %x %d", r.op, v, e)
 		}
 	}
@@ -221,7 +222,7 @@ func TestExamples(t *testing.T) {
 		{0xfd82, 16, all(16, 32768), all(16, 32768), 32767}, {0xfd82, 16, all(16, 16384), all(16, 16384), 8192},
 	}
 	for _, r := range bins {
-		if v, e := Bin(r.op, r.a, r.b); pair.Get(v, r.w, 0) != r.want || e != 0 {
+		if v, e := widen.Bin(r.op, r.a, r.b); pair.Get(v, r.w, 0) != r.want || e != 0 {
 			t.Errorf("%x: %x %d", r.op, v, e)
 		}
 	}
