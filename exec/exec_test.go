@@ -203,7 +203,7 @@ func TestStack(t *testing.T) {
 	loop := func(last ...api.Cell) []api.Cell {
 		return slices.Concat(slices.Repeat([]api.Cell{cellA(0x10, 1)}, 1024), last, []api.Cell{ret})
 	}
-	p.Funcs = []api.Fn{{Host: -1, Cells: loop()}, {Host: -1, Sig: 1, Out: 1024, Cells: append(many, ret)}, {Host: -1, Cells: loop(konst(1))}, {Host: -1, Cells: loop(tick, drop, konst(1), slid(1<<20, 0), cellA(0x10, 1))}}
+	p.Funcs = []api.Fn{{Host: -1, Cells: loop()}, {Host: -1, Sig: 1, Out: 1024, Cells: append(many, ret)}, {Host: -1, Cells: loop(konst(1), drop)}, {Host: -1, Cells: loop(tick, drop, konst(1), slid(1<<20, 0), cellA(0x10, 1))}}
 	m := exec.New(p, made(t, source()), host.New())
 	runs(t, "full", m, 0, nil, 10, ok(10))
 	runs(t, "one more", m, 2, nil, 10, fails(api.ErrBad, 10))
@@ -308,7 +308,11 @@ func TestErrors(t *testing.T) {
 		runs(t, i, m, 0, []uint64{1, 2}, 10, []api.Outcome{ok(10, 1, 2), fails(api.ErrBad, 0)}[i])
 	}
 	p.Sigs[0].In[1] = i32
-	runs(t, "cut", exec.New(p, s, h), 0, []uint64{1<<40 + 1, 1<<40 + 2}, 10, ok(10, 1<<40+1, 2))
+	args := []uint64{1<<40 + 1, 1<<40 + 2}
+	runs(t, "cut", exec.New(p, s, h), 0, args, 10, ok(10, 1<<40+1, 2))
+	if args[1] != 1<<40+2 {
+		t.Error("what was handed in is cut")
+	}
 	for fuel, left := range map[int]int{-1: 0, math.MinInt: 0, 100000: 100000, 100001: 100000, math.MaxInt: 100000} {
 		runs(t, fuel, exec.New(p, s, h), 0, []uint64{1, 2}, fuel, ok(left, 1, 2))
 	}

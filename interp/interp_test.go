@@ -134,6 +134,13 @@ func TestBodies(t *testing.T) {
 		{"loop with parameters", fn{in: []int{i32}, out: []int{i32}, body: code{c32(1), opA(0x20, 0), opA(3, 2), opA(0x22, 0), drop1, c32(2), op(0x6c), opA(0x20, 0), c32(1), sub32, opA(0x20, 0), c32(1), sub32, opA(0x0d, 0), drop1, end}}, []uint64{3}, ok(100-3-3*11-1, 8)},
 		{"return", fn{out: []int{i32}, body: code{c64(1), opA(2, empty), cv(1, 1), c32(3), ret, end, drop1, dead}}, nil, ok(95, 3)},
 		{"br of the function's label", fn{out: []int{i32, i64}, body: code{c64(1), c32(3), c64(4), opA(0x0c, 0)}}, nil, ok(96, 3, 4)},
+		{"br behind closed blocks", fn{out: []int{i32}, body: code{opA(2, empty), opA(3, empty), end, end, c32(1), opA(4, empty), idle, els, end, opA(2, -1), c32(5), opA(0x0c, 0), end}}, nil, ok(92, 5)},
+		{"br past closed blocks", fn{out: []int{i32}, body: code{opA(2, empty), end, opA(2, empty), c32(5), opA(0x0c, 1), end, dead}}, nil, ok(96, 5)},
+		{"br past blocks that were left", fn{out: []int{i32}, body: code{opA(2, empty), opA(0x0c, 0), end, opA(2, empty), c32(5), opA(0x0c, 1), end, dead}}, nil, ok(95, 5)},
+		{"br out of a block with parameters", fn{out: []int{i32}, body: code{c32(8), c32(1), c32(2), opA(2, 2), drop1, c32(7), opA(0x0c, 0), end, sub32, drop1, c32(6)}}, nil, ok(90, 6)},
+		{"br takes its parameters away", fn{out: []int{i32}, body: code{c32(8), c32(1), c32(2), opA(2, 2), c32(7), opA(0x0c, 0), end, sub32}}, nil, ok(93, 1)},
+		{"a block of the first type", fn{in: []int{i32}, out: []int{i32}, body: code{c32(8), opA(0x20, 0), opA(2, 0), c32(1), add32, opA(0x0c, 0), end, sub32}}, []uint64{2}, ok(93, 5)},
+		{"a loop of the first type", fn{in: []int{i32}, out: []int{i32}, body: code{opA(0x20, 0), opA(3, 0), c32(1), sub32, opA(0x22, 0), opA(0x20, 0), opA(0x0d, 0), end}}, []uint64{3}, ok(83, 0)},
 		// memory
 		{"size and grow", fn{out: three, body: code{c32(1), op(0x40), op(0x3f), c32(9), op(0x40)}}, nil, ok(95, 1, 2, 1<<32-1)},
 		{"store and load", fn{out: []int{i64, i32}, body: code{c32(10), c64(0x1122334455667788), opAB(0x37, 3, 6), c32(16), op(0x29), c32(15), opAB(0x2d, 0, 2)}}, nil, ok(93, 0x1122334455667788, 0x77)},
@@ -221,12 +228,15 @@ func TestTable(t *testing.T) {
 
 // P18.1: calls, the depth, and what stays.
 func TestCalls(t *testing.T) {
-	m, s, _ := machine(t, with(
+	calls := with(
 		fn{in: []int{i32, v128}, out: []int{i32, v128, i32}, body: code{c32(50), opA(0x20, 1), opA(0x20, 0), opA(0x10, 1), drop1}},
 		fn{in: []int{v128, i32}, out: []int{v128, i32, i64}, locals: []int{i64}, body: code{opA(0x20, 0), opA(0x20, 1), opA(0x20, 2), c64(77), opA(0x21, 2)}},
 		fn{body: code{opA(0x23, 0), c32(1), add32, opA(0x24, 0), opA(0x10, 2)}},
 		fn{in: []int{i32}, out: []int{i32}, body: code{opA(0x20, 0), opA(4, -1), opA(0x20, 0), c32(1), sub32, opA(0x10, 3), els, c32(5), end}},
-	))
+	)
+	m, _, _ := machine(t, with(fn{in: []int{i32}, body: code{opA(3, empty), opA(0x10, 1), opA(0x20, 0), c32(1), sub32, opA(0x22, 0), opA(0x0d, 0), end}}, fn{}))
+	runs(t, "calls behind one another", m, 0, []uint64{100}, 1000, ok(1000-1-600))
+	m, s, _ := machine(t, calls)
 	runs(t, "a call", m, 0, []uint64{3, 1, 2}, 100, ok(90, 50, 1, 2, 3))
 	runs(t, "depth", m, 2, nil, 1000, fails(api.TrapDepth, 1000-64*5))
 	if x, _ := s.Slot(0); x != 7+64 {

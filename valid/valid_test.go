@@ -128,6 +128,25 @@ func TestBodies(t *testing.T) {
 	}
 }
 
+// P15.2: each body by its own function's type, behind the imports.
+func TestFunctions(t *testing.T) {
+	of := func(swap bool) api.Module {
+		m := with(nil, []int{i32}, nil, c32)
+		m.Codes[1].Body = code{cv, c32, end}
+		m.Funcs = append(m.Funcs, 5)
+		m.Codes = append(m.Codes, api.Code{Locals: []int{i64}, Body: code{opA(0x20, 1), op(0xa7), end}})
+		if swap {
+			m.Funcs[1], m.Funcs[2] = m.Funcs[2], m.Funcs[1]
+		}
+		return m
+	}
+	check(t, "as they are", of(false), 0)
+	check(t, "swapped", of(true), api.ErrValid)
+	if marks, e := valid.Marks(of(false), 1); e != 0 || !slices.Equal(marks, []api.Mark{live(0, 0), live(1, 1), live(2, 1)}) {
+		t.Error(marks, e)
+	}
+}
+
 // P15.2: each plain instruction takes and gives what chapter 4 says, and no
 // other types.
 func TestPlain(t *testing.T) {
