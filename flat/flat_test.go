@@ -123,6 +123,11 @@ func TestShapes(t *testing.T) {
 			t.Errorf("%d: an import with cells, locals or marks", f)
 		}
 	}
+	wide := slices.Repeat([]int{v128}, 32)
+	m = one(wide, wide[:1], wide[:2], opA(0x20, 31), opA(0x20, 33), op(0xfd6e))
+	if fn := checked(t, "wide", m).Funcs[2]; fn.In != 64 || fn.Out != 2 || fn.Locals < 4 || fn.Locals > 4+api.MaxScratch {
+		t.Error(fn.In, fn.Out, fn.Locals)
+	}
 	m = one([]int{v128}, []int{i64}, nil, c64(1))
 	m.Types = append(m.Types, m.Types[0])
 	m.Funcs[0] = 7

@@ -77,10 +77,11 @@ func TestReadShort(t *testing.T) {
 	}
 }
 
-// P1.1, P1.2: long rows whose last bytes vary, at every width.
+// P1.1, P1.2: rows about as long as may be, whose last bytes vary, at every
+// width.
 func TestReadLong(t *testing.T) {
 	for bits := range 66 {
-		for length := range 12 {
+		for length := max(bits/7-2, 0); length <= bits/7+1; length++ {
 			for _, fill := range []byte{0x80, 0xff, 0xaa} {
 				for last := range 256 {
 					b := append(bytes.Repeat([]byte{fill}, length), byte(last))
