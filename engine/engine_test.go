@@ -292,6 +292,32 @@ func TestEngines(t *testing.T) {
 	}
 }
 
+// P26.3: a run with less fuel is a beginning of the run with more.
+func TestFuel(t *testing.T) {
+	for seed := range uint64(40) {
+		u := loaded(t, trial.Module(seed))
+		s, _ := valid.Sig(u.Module(), 2)
+		for engine := range 2 {
+			var last api.Outcome
+			var log []api.Event
+			for fuel := range 80 {
+				h := host.New(seed, 2, 3)
+				x, _ := u.New(h, engine, 0)
+				out := x.Invoke("f0", trial.Arguments(seed, s.In), fuel, engine)
+				now := h.Log()
+				if len(now) < len(log) || len(log) > 0 && !reflect.DeepEqual(now[:len(log)], log) {
+					t.Fatal(seed, engine, fuel, log, now)
+				}
+				last.Left++
+				if fuel > 0 && last.Err != api.ErrFuel && !alike(last, out) || out.Err == api.ErrFuel && out.Left != 0 {
+					t.Fatal(seed, engine, fuel, last, out)
+				}
+				last, log = out, now
+			}
+		}
+	}
+}
+
 // P26.5
 func TestMemory(t *testing.T) {
 	b := bytesOf(t, sample(-1))

@@ -101,19 +101,24 @@ func (f *frame) block(s *step) {
 	case ops.Block, ops.Loop:
 		f.enter(s)
 	case ops.If:
-		switch yes := uint32(f.popNumber()) != 0; {
-		case yes:
-			f.enter(s)
-		case s.other >= 0:
-			f.enter(s)
-			f.at = s.other + 1
-		default:
-			f.at = s.end + 1
-		}
+		f.decide(s, uint32(f.popNumber()) != 0)
 	case ops.Else: // what stands ahead of it has been done
 		f.at = s.end
 	case ops.End:
 		f.labels = f.labels[:len(f.labels)-1]
+	}
+}
+
+// decide enters one of an if's parts, or goes past it.
+func (f *frame) decide(s *step, yes bool) {
+	switch {
+	case yes:
+		f.enter(s)
+	case s.other >= 0:
+		f.enter(s)
+		f.at = s.other + 1
+	default:
+		f.at = s.end + 1
 	}
 }
 
