@@ -96,15 +96,11 @@ func (r *reader) instruction() api.Instr {
 	return in
 }
 
-// opcode reads an opcode; it fails where the bytes have none.
+// opcode reads what may be an opcode; it fails where the bytes have none.
 func (r *reader) opcode() int {
 	switch first := r.octet(); first {
 	case vectorByte:
-		n := r.number()
-		if n > vectorsTop {
-			r.fail(api.ErrForm)
-		}
-		return ops.Vectors + n
+		return ops.Vectors + r.number()
 	case otherByte:
 		if n := r.number(); n < floats && r.err == api.OK {
 			r.fail(api.ErrFloat)
