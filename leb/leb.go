@@ -15,49 +15,24 @@ const (
 // U reads the number without a sign, of that many bits, that stands in b from
 // the place at on; the place behind it is answered beside it.
 func U(b []byte, at int, bits int) (uint64, int, api.Errno) {
-	if !fits(b, at, bits) {
-		return 0, 0, api.ErrArg
-	}
-	var sum uint64
-	for shift := 0; ; shift += 7 {
-		if at == len(b) {
-			return 0, 0, api.ErrShort
-		}
-		c := b[at]
-		at++
-		left := bits - shift
-		if left < 7 && c&low>>left != 0 || left <= 7 && c&more != 0 {
-			return 0, 0, api.ErrLeb
-		}
-		sum |= uint64(c&low) << shift
-		if c&more == 0 {
-			return sum, at, api.OK
-		}
-	}
+	sum, _, at, e := read(b, at, bits, func(c byte, left int) bool {
+		return left >= 7 || c>>left == 0
+	})
+	return sum, at, e
 }
 
 // S reads the number in two's complement, of that many bits, that stands in b
 // from the place at on; the place behind it is answered beside it.
 func S(b []byte, at int, bits int) (int64, int, api.Errno) {
-	if !fits(b, at, bits) {
-		return 0, 0, api.ErrArg
+	sum, width, at, e := read(b, at, bits, func(c byte, left int) bool {
+		high := c >> (left - 1)
+		return left > 7 || high == 0 || high == byte(low)>>(left-1)
+	})
+	// The highest bit that was read is the sign, and stands for all above it.
+	if width > 0 && width < 64 && sum>>(width-1) == 1 {
+		sum |= ^uint64(0) << width
 	}
-	var sum uint64
-	for shift := 0; ; shift += 7 {
-		if at == len(b) {
-			return 0, 0, api.ErrShort
-		}
-		c := b[at]
-		at++
-		left := bits - shift
-		if left <= 7 && (c&more != 0 || !even(c&low, left-1)) {
-			return 0, 0, api.ErrLeb
-		}
-		sum |= uint64(c&low) << shift
-		if c&more == 0 {
-			return extend(sum, c, shift+7), at, api.OK
-		}
-	}
+	return int64(sum), at, e
 }
 
 // PutU writes the numbers in their shortest forms, one behind the other.
@@ -88,22 +63,28 @@ func PutS(ns ...int64) []byte {
 	return out
 }
 
-// fits tells whether a number of that many bits may be asked for at that place.
-func fits(b []byte, at int, bits int) bool {
-	return bits >= 1 && bits <= 64 && at >= 0 && at <= len(b)
-}
-
-// even tells whether the seven bits c are all alike from the bit number from on.
-func even(c byte, from int) bool {
-	high := c >> from
-	return high == 0 || high == byte(low)>>from
-}
-
-// extend gives sum, whose last byte was c, the sign of c in all bits from the
-// bit number width on.
-func extend(sum uint64, c byte, width int) int64 {
-	if c&sign != 0 && width < 64 {
-		sum |= ^uint64(0) << width
+// read reads a row of bytes for a number of that many bits. Of each byte the
+// lower seven bits are shown to fits, with the number of bits that are left for
+// them and for what follows. It answers their sum, how many bits were read, and
+// the place behind.
+func read(b []byte, at, bits int, fits func(c byte, left int) bool) (uint64, int, int, api.Errno) {
+	if bits < 1 || bits > 64 || at < 0 || at > len(b) {
+		return 0, 0, 0, api.ErrArg
 	}
-	return int64(sum)
+	var sum uint64
+	for shift := 0; ; shift += 7 {
+		if at == len(b) {
+			return 0, 0, 0, api.ErrShort
+		}
+		c := b[at]
+		at++
+		left := bits - shift
+		if !fits(c&low, left) || left <= 7 && c&more != 0 {
+			return 0, 0, 0, api.ErrLeb
+		}
+		sum |= uint64(c&low) << shift
+		if c&more == 0 {
+			return sum, shift + 7, at, api.OK
+		}
+	}
 }
